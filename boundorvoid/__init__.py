@@ -1,0 +1,1 @@
+"""Boundorvoid: pacts signed by notes, and a notary who answers at once."""

@@ -1,0 +1,174 @@
+"""Small pacts for the tests, and slow answers that are read straight off the document."""
+
+import itertools
+import random
+
+from boundorvoid.pacts import Pact
+from boundorvoid.texts import read_pact
+
+BASE = ["hands a b", "note m a", "note n b m", "note o a n", "note p b o"]
+
+
+def base_pact(paper="p"):
+    """The pact of most examples of the document."""
+    return read_pact("\n".join(BASE + ["ready m n", "paper " + paper]))
+
+
+def chain_pact(hands, many, paper=None):
+    """A pact whose notes, one hand behind the other, each wait for all ahead."""
+    names = note_names(many)
+    notes = [(names[k], hands[k % len(hands)], tuple(sorted(names[:k]))) for k in range(many)]
+    return Pact(hands, notes, names[:len(hands)], paper or (names[-1],))
+
+
+def loose_pact(levels, waits=()):
+    """A pact of hands a, b, .. with so many notes each, which wait for nothing but their own hand's."""
+    hands = tuple("abcdef"[:len(levels)])
+    notes = [(hand + "abcdefghijklmnopqrstuvwxyz"[k // 26] + "abcdefghijklmnopqrstuvwxyz"[k % 26], hand, waits)
+             for hand, many in zip(hands, levels) for k in range(many)]
+    firsts = [hand + "aa" for hand in hands]
+    return Pact(hands, notes, firsts, tuple(firsts))
+
+
+def note_names(many):
+    letters = "abcdefghijklmnopqrstuvwxyz"
+    return tuple(letters[k // 26] + letters[k % 26] for k in range(many))
+
+
+def random_pact(rng, many_hands, many_notes, density):
+    """A pact with names in no order, and waits as dense as told."""
+    hands = rng.sample("abcdxyz", many_hands)
+    names = rng.sample([one + other for one in "abm" for other in "akxz"] + list("amnoz"), many_notes)
+    owners = hands + [rng.choice(hands) for _ in range(many_notes - many_hands)]
+    rng.shuffle(owners)
+    notes = []
+    for at, name in enumerate(names):
+        waits = [other for other in names[:at] if rng.random() < density]
+        notes.append((name, owners[at], tuple(sorted(waits))))
+    ready = []
+    for hand in hands:
+        own = [name for name, owner in zip(names, owners) if owner == hand]
+        ready.append(rng.choice(own[:2] + own[:1]))
+    while True:
+        paper = tuple(sorted(name for name in names if rng.random() < 0.4))
+        under = naive_under(notes)
+        whole = set().union(*(under[name] for name in paper)) if paper else set()
+        if {owner for name, owner in zip(names, owners) if name in whole} == set(hands):
+            return Pact(hands, notes, ready, paper)
+
+
+def small_pacts(seed, many, hands=(2, 3), notes=(3, 7), density=(0.1, 0.35, 0.6)):
+    """So many pacts of these sizes, always the same for a seed."""
+    rng = random.Random(seed)
+    pacts = []
+    while len(pacts) < many:
+        many_hands = rng.randint(*hands)
+        many_notes = rng.randint(max(notes[0], many_hands), notes[1])
+        pacts.append(random_pact(rng, many_hands, many_notes, rng.choice(density)))
+    return pacts
+
+
+def naive_under(notes):
+    """What lies under each note: by the waits, and each hand's last note ahead."""
+    under, newest = {}, {}
+    for name, hand, waits in notes:
+        under[name] = {name}.union(*(under[wait] for wait in waits))
+        if hand in newest:
+            under[name] |= under[newest[hand]]
+        newest[hand] = name
+    return under
+
+
+def owners_of(pact):
+    return {name: hand for name, hand, _ in pact.notes}
+
+
+def naive_moments(pact):
+    """All lots of notes with all that lies under them."""
+    under = naive_under(pact.notes)
+    lots = subsets(sorted(pact.names))
+    return [lot for lot in lots if all(under[name] <= set(lot) for name in lot)]
+
+
+def subsets(things):
+    return [lot for many in range(len(things) + 1) for lot in itertools.combinations(things, many)]
+
+
+def naive_whole(pact):
+    under = naive_under(pact.notes)
+    return set().union(*(under[name] for name in pact.paper))
+
+
+def all_runs(pact, most_events=99, twice=False):
+    """All runs in which each hand asks at most once (or twice)."""
+    under = naive_under(pact.notes)
+    moments = naive_moments(pact)
+    many = 2 if twice else 1
+    runs, found = [()], [()]
+    while found:
+        longer = []
+        for run in found:
+            sent = {event[1] for event in run if event[0] == "send"}
+            asked = [event[1] for event in run if event[0] == "ask"]
+            if len(run) == most_events:
+                continue
+            for name in pact.names:
+                if name not in sent and under[name] - {name} <= sent:
+                    longer.append(run + (("send", name),))
+            for hand in pact.hands:
+                if asked.count(hand) < many:
+                    longer.extend(run + (("ask", hand, moment),) for moment in moments if set(moment) <= sent)
+        runs.extend(longer)
+        found = longer
+    return runs
+
+
+def random_run(rng, pact, most=14, ask=0.35):
+    """A run in which hands ask at any time, perhaps again."""
+    under = naive_under(pact.notes)
+    moments = naive_moments(pact)
+    run, sent = [], set()
+    for _ in range(rng.randint(0, most)):
+        free = [name for name in pact.names if name not in sent and under[name] - {name} <= sent]
+        if free and rng.random() >= ask:
+            run.append(("send", rng.choice(free)))
+            sent.add(run[-1][1])
+        else:
+            shown = [moment for moment in moments if set(moment) <= sent]
+            run.append(("ask", rng.choice(pact.hands), rng.choice(shown + shown[-1:] * 3)))
+    return tuple(run)
+
+
+def all_families(hands):
+    """All families of a lot of hands."""
+    lots = subsets(sorted(hands))
+    families = []
+
+    def grow(family, at):
+        if at == len(lots):
+            if family:
+                families.append(tuple(sorted(family)))
+            return
+        grow(family, at + 1)
+        if all(not set(lots[at]) <= set(lot) and not set(lot) <= set(lots[at]) for lot in family):
+            grow(family + [lots[at]], at + 1)
+
+    grow([], 0)
+    return families
+
+
+def all_rows(hands):
+    """All rows of unlike hands, those of fewer hands first, then ascending."""
+    return [row for many in range(1, len(hands) + 1) for row in itertools.permutations(sorted(hands), many)]
+
+
+def raised(error, call, *told, **named):
+    """What an error keeps that a call must raise: exactly this class."""
+    try:
+        got = call(*told, **named)
+    except Exception as wrong:
+        if wrong.__class__ is not error:
+            raise
+        kept = [value for value in vars(wrong).values()]
+        return kept[0] if kept else None
+    raise AssertionError(f"{error.__name__} was not raised, but {got!r} returned")
