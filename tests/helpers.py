@@ -68,6 +68,28 @@ def small_pacts(seed, many, hands=(2, 3), notes=(3, 7), density=(0.1, 0.35, 0.6)
     return pacts
 
 
+def close_pacts(seed, many, hands=(2, 3), notes=(5, 9)):
+    """So many pacts whose notes mostly wait for all ahead and are in the paper, as those must that are just."""
+    rng = random.Random(seed)
+    pacts = []
+    for _ in range(many):
+        told = "".join(rng.sample("abcdxyz", rng.randint(*hands)))
+        size = rng.randint(max(notes[0], len(told) * 2), max(notes[1], len(told) * 2))
+        owners = list(told) + [rng.choice(told) for _ in range(size - len(told))]
+        for at in range(len(told), min(2 * len(told), size)):
+            owners[at] = told[at - len(told)]
+        names = rng.sample(note_names(40), size)
+        dense = rng.choice((0.6, 0.8, 0.95))
+        told_notes = [(name, owner, tuple(sorted(other for other in names[:at] if rng.random() < dense)))
+                      for at, (name, owner) in enumerate(zip(names, owners))]
+        paper = names[-1:] + rng.sample(names, size // 2)
+        under = naive_under(told_notes)
+        whole = set().union(*(under[name] for name in paper))
+        if {owner for name, owner in zip(names, owners) if name in whole} == set(told):
+            pacts.append(Pact(tuple(told), told_notes, names[:len(told)], tuple(sorted(set(paper)))))
+    return pacts
+
+
 def naive_under(notes):
     """What lies under each note: by the waits, and each hand's last note ahead."""
     under, newest = {}, {}

@@ -1,6 +1,7 @@
 """The examples of the document, as far as the program goes."""
 
 import doctest
+import pathlib
 import unittest
 
 NOTES = """
@@ -21,6 +22,40 @@ NOTES = """
     (('o',), (), ('n', 'o'), 16)
 """
 
+OVERVIEW = """
+    >>> from boundorvoid.texts import read_pact
+    >>> from boundorvoid.court import court
+    >>> rows = ["hands a b", "note m a", "note n b m", "note o a n"]
+    >>> pact = read_pact("\\n".join(rows + ["ready m n", "paper n o"]))
+    >>> torn = court(pact, (("a",), ("b",)))
+    >>> torn.hand, torn.row
+    ('b', ('a', 'b'))
+"""
+
+RUNS = """
+    >>> from boundorvoid.runs import filling_liars, run_heard, run_liars
+    >>> from boundorvoid.texts import read_pact
+    >>> from boundorvoid.wrongs import good_answers, run_wrongs
+    >>> rows = ["hands a b", "note m a", "note n b m", "note o a n"]
+    >>> pact = read_pact("\\n".join(rows + ["ready m n", "paper n o"]))
+    >>> run = (("send", "m"), ("ask", "a", ("m",)), ("send", "n"), ("ask", "b", ("m", "n")), ("send", "o"))
+    >>> run_liars(pact, run), filling_liars(pact, run_heard(pact, run))
+    (('a',), ('a',))
+    >>> run_wrongs(pact, run, ("void", "void")), good_answers(pact, run), good_answers(pact, run[:-1])
+    ((('b', 4, 'paper'),), (('void', 'bound'),), (('void', 'void'),))
+"""
+
+COURT = """
+    >>> from boundorvoid.court import court, least_paper, safe_notes
+    >>> from boundorvoid.texts import read_pact
+    >>> rows = ["hands a b", "note m a", "note n b m", "note o a n", "note p b o"]
+    >>> pact = read_pact("\\n".join(rows + ["ready m n", "paper o p"]))
+    >>> court(pact, (("a",), ("b",))).table
+    ((('a',), 'a', 1), (('b',), 'b', 0), (('a', 'b'), 'b', 1), (('a', 'b'), 'a', 1))
+    >>> safe_notes(pact, (("a",), ("b",))), least_paper(pact, ((),))
+    (('m', 'n'), ('m', 'n', 'o'))
+"""
+
 
 class ExamplesTest(unittest.TestCase):
     def check(self, name, text):
@@ -32,6 +67,19 @@ class ExamplesTest(unittest.TestCase):
 
     def test_notes(self):
         self.check("notes", NOTES)
+
+    def test_overview(self):
+        self.check("overview", OVERVIEW)
+
+    def test_runs(self):
+        self.check("runs", RUNS)
+
+    def test_court(self):
+        self.check("court", COURT)
+
+    def test_readme(self):
+        readme = pathlib.Path(__file__).resolve().parent.parent / "README.md"
+        self.check("readme", readme.read_text())
 
 
 if __name__ == "__main__":

@@ -19,11 +19,26 @@ INTERFACE = {
                 "joined_moment": "pact moments", "met_moment": "pact moments", "moment_tops": "pact moment",
                 "all_moments": "pact", "count_sendings": "pact moment", "nth_sending": "pact moment number",
                 "sending_number": "pact moment value"},
+    "runs": {"need_run": "pact value", "run_heard": "pact run", "run_liars": "pact run", "need_heard": "pact value",
+             "need_history": "pact value", "heard_liars": "pact heard", "heard_run": "pact heard",
+             "filling_liars": "pact heard", "filling_run": "pact heard"},
+    "spans": {"run_spans": "pact run", "eager_run": "pact run", "late_run": "pact run"},
+    "wrongs": {"replay": "pact run rule", "run_wrongs": "pact run answers", "good_answers": "pact run",
+               "hopeless_run": "pact"},
+    "climbs": {"need_row": "pact value", "climb_from": "pact note row", "climb": "pact hand row",
+               "row_holds": "pact hand row", "ladder_holds": "pact hand row value", "descent": "pact row",
+               "row_starts": "pact row", "row_moments": "pact hand row"},
+    "families": {"need_family": "pact value", "in_family": "family lot", "all_lots": "family", "family_of": "lots",
+                 "sized_family": "hands many", "family_join": "one other", "barred_lots": "hands family",
+                 "family_barring": "hands lots", "family_text": "family", "read_family": "text"},
+    "court": {"Just": "table", "Torn": "hand row", "court_rows": "pact family", "highest_level": "pact lot hand",
+              "court_table": "pact family", "court": "pact family", "check_court": "pact family value",
+              "safe_notes": "pact family", "least_paper": "pact family"},
 }
 ERRORS = {"InvalidPact": "at", "InvalidText": "at", "InvalidFamily": "at", "InvalidMoment": "at", "InvalidRun": "at",
           "InvalidAsk": "at", "InvalidRow": "at", "InvalidOffices": "at", "InvalidSize": "word", "Refused": "word",
           "NoName": "name"}
-EQUAL = {"pacts": ["Pact"]}
+EQUAL = {"pacts": ["Pact"], "court": ["Just", "Torn"]}
 
 
 class InterfaceTest(unittest.TestCase):
