@@ -35,7 +35,7 @@ class NeedFamilyTest(unittest.TestCase):
         for value in (None, (), [], [()], [("a",)], "a", 0, True, pact):
             self.assertEqual(raised(InvalidFamily, need_family, pact, value), -1)
         for value, at in ((("a",), 0), ((["a"],), 0), ((("a",), None), 1), ((("b",), ("a",)), 1), ((("a",), ("a",)), 1),
-                          ((("c",),), 0), ((("a", "a"),), 0), ((("b", "a"),), 0), ((("a",), ("m",)), 1),
+                          ((("c",),), 0), ((("a",), ("b",), ("a", "b")), 2), ((("a", "a"),), 0), ((("b", "a"),), 0), ((("a",), ("m",)), 1),
                           ((("a", None),), 0), (((["a"],),), 0), ((1,), 0), ((((),),), 0), ((pact,), 0)):
             self.assertEqual(raised(InvalidFamily, need_family, pact, value), at, value)
         # What lies within another one is told last.
@@ -158,7 +158,7 @@ class FamilyTextTest(unittest.TestCase):
         for value in (None, 0, True, ("a",), ["a"], b"a", base_pact()):
             self.assertEqual(raised(InvalidText, read_family, value), -1)
         for text, at in (("\n", 0), ("a\n", 1), ("\na", 0), (" ", 0), ("a ", 0), (" a", 0), ("a  b", 0), ("b a", 0),
-                         ("a a", 0), ("A", 0), ("a1", 0), ("abcdefghi", 0), ("a\nb\na", 2), ("a\na", 1), ("b\na", 1),
+                         ("a a", 0), ("A", 0), ("a1", 0), ("abcdefghi", 0), ("a\nb\na", 2), ("a\nc\nb", 2), ("a\na", 1), ("b\na", 1),
                          ("a\n\nb", 1), ("a\tb", 0), ("a\r\nb", 0), ("a\nb c \nd", 1), ("\xe9", 0), ("a,b", 0)):
             self.assertEqual(raised(InvalidText, read_family, text), at, text)
         # What lies within another one is told last.

@@ -1,0 +1,147 @@
+"""[1] and [2], for every function of the interface: what holds of all calls."""
+
+import copy
+import importlib
+import unittest
+
+from boundorvoid.court import Just, Torn, court
+from boundorvoid.pacts import Pact
+from boundorvoid.texts import pact_text
+
+from tests.helpers import base_pact
+from tests.test_interface import INTERFACE
+
+PACT = base_pact()
+# The same names, but other waits, ready notes and paper.
+OTHER = Pact(["a", "b"], [("m", "a", ()), ("n", "b", ()), ("o", "a", ()), ("p", "b", ("m",))], ["o", "p"], ("o", "p"))
+ALL = ("m", "n", "o", "p")
+FAMILY = (("a",), ("b",))
+RUN = (("send", "m"), ("ask", "a", ("m",)), ("send", "n"), ("ask", "b", ("m", "n")), ("ask", "a", ()))
+HEARD = (("a", ("m",)), ("b", ("m", "n")))
+HISTORY = (("a", ("m",), "void"), ("b", ("m", "n"), "bound"))
+TABLE = (((1, 0), (2, 1)), ((1, 1), (2, 2)))
+
+
+def rule(history, hand, moment):
+    return "bound" if history else "void"
+
+
+# What each function is called with, but for the pact; lists stand where sequences are expected.
+CALLS = {
+    "Pact": [["a", "b"], list(PACT.notes), ["m", "n"], ("p",)],
+    "hand_of": ["n"], "notes_of": ["a"], "lies_under": ["m", "p"], "under_of": ["o"], "whole_paper": [],
+    "key_note": ["b"], "ready_note": ["b"],
+    "closure_of": [("o",)], "level_of": ["o"], "top_of": ["a"], "next_level": ["b", "o"], "next_note": ["b", "o"],
+    "last_note": ["a", "p"], "next_levels": ["n"], "clock_of": ["o"], "clocks_of": [], "clock_fault": [TABLE],
+    "bare_waits": ["p"], "bare_paper": [], "least_order": [], "bare_form": [], "full_form": [],
+    "same_web": [PACT, OTHER], "telling_count": [], "retold_pact": [ALL],
+    "clocked_notes": [["a", "b"], [["m", "o"], ["n", "p"]], TABLE],
+    "pact_text": [], "read_pact": [pact_text(PACT)],
+    "need_moment": [("m",)], "moment_levels": [("m", "n")], "moment_at": [(1, 1)],
+    "joined_moment": [[("m",), ("m", "n")]], "met_moment": [[("m",), ("m", "n")]], "moment_tops": [("m", "n")],
+    "all_moments": [], "count_sendings": [ALL], "nth_sending": [ALL, 0], "sending_number": [ALL, ALL],
+    "need_run": [RUN], "run_heard": [RUN], "run_liars": [RUN], "need_heard": [HEARD], "need_history": [HISTORY],
+    "heard_liars": [HEARD], "heard_run": [HEARD], "filling_liars": [HEARD], "filling_run": [HEARD],
+    "run_spans": [RUN], "eager_run": [RUN], "late_run": [RUN],
+    "replay": [RUN, rule], "run_wrongs": [RUN, ["bound", "void"]], "good_answers": [RUN], "hopeless_run": [],
+    "need_row": [("a", "b")], "climb_from": ["m", ("b", "a")], "climb": ["a", ("b", "a")],
+    "row_holds": ["a", ("b", "a")], "ladder_holds": ["b", ("a", "b"), ("o", "p")], "descent": [("a", "b")],
+    "row_starts": [("a", "b")], "row_moments": ["b", ("a", "b")],
+    "need_family": [FAMILY], "in_family": [FAMILY, ("a",)], "all_lots": [FAMILY],
+    "family_of": [[("b",), ("a",), ()]], "sized_family": [("a", "b"), 1], "family_join": [FAMILY, ((),)],
+    "barred_lots": [("a", "b"), FAMILY], "family_barring": [("a", "b"), [("a", "b")]], "family_text": [FAMILY],
+    "read_family": ["a\nb"],
+    "Just": [()], "Torn": ["a", ("b",)], "court_rows": [FAMILY], "highest_level": [("a", "b"), "b"],
+    "court_table": [FAMILY], "court": [FAMILY], "check_court": [FAMILY, court(PACT, FAMILY)],
+    "safe_notes": [FAMILY], "least_paper": [FAMILY],
+}
+WHERE_SEQUENCES = {"Pact": (0, 1, 2), "clocked_notes": (0, 1), "joined_moment": (0,), "met_moment": (0,),
+                   "run_wrongs": (1,), "family_of": (0,), "family_barring": (1,)}
+
+
+def interface():
+    """Each name with what it leads to, its parameters, and what it is called with behind a pact, if it takes one."""
+    for stem, names in INTERFACE.items():
+        for name, told in names.items():
+            yield name, getattr(importlib.import_module("boundorvoid." + stem), name), told.split(), CALLS[name]
+
+
+def as_tuples(value):
+    return tuple(map(as_tuples, value)) if isinstance(value, list) else value
+
+
+def has_lists(value):
+    """Whether some list or set is in what was returned."""
+    if isinstance(value, dict):
+        return any(map(has_lists, value.values()))
+    if isinstance(value, (Pact, Just, Torn)):
+        return any(map(has_lists, [getattr(value, name) for name in
+                                   ("hands", "notes", "ready", "paper", "names", "table", "hand", "row")
+                                   if hasattr(value, name)]))
+    if isinstance(value, tuple):
+        return any(map(has_lists, value))
+    return isinstance(value, (list, set))
+
+
+class PromisesTest(unittest.TestCase):
+    def test_every_name_is_tried(self):
+        self.assertEqual(set(CALLS), {name for names in INTERFACE.values() for name in names})
+
+    def test_by_position_and_by_name_and_again(self):
+        for name, call, parameters, told in interface():
+            ahead = [PACT] if parameters[0] == "pact" else []
+            result = call(*ahead, *told)
+            self.assertEqual(call(**dict(zip(parameters, ahead + told))), result, name)
+            if ahead:
+                try:
+                    call(OTHER, *told)
+                except Exception as wrong:
+                    self.assertEqual(wrong.__class__.__module__, "boundorvoid.errors", name)
+            self.assertEqual(call(*ahead, *told), result, name)
+            self.assertFalse(has_lists(result), name)
+
+    def test_sequences_as_lists_or_tuples(self):
+        for name, call, parameters, told in interface():
+            ahead = [PACT] if parameters[0] == "pact" else []
+            for at in WHERE_SEQUENCES.get(name, ()):
+                self.assertIsInstance(told[at], list)
+            listed = {at for at, value in enumerate(told) if isinstance(value, list)}
+            self.assertEqual(listed, set(WHERE_SEQUENCES.get(name, ())), name)
+            self.assertEqual(call(*ahead, *map(as_tuples, told)), call(*ahead, *told), name)
+
+    def test_arguments_are_not_changed_and_not_needed_later(self):
+        before = {name: copy.deepcopy(vars(PACT)[name]) for name in vars(PACT)}
+        for name, call, parameters, told in interface():
+            ahead = [PACT] if parameters[0] == "pact" else []
+            handed = [list(value) if isinstance(value, list) else value for value in told]
+            result = call(*ahead, *handed)
+            self.assertEqual(handed, told, name)
+            kept = copy.deepcopy(result)
+            for value in handed:
+                if isinstance(value, list):
+                    value.clear()
+            self.assertEqual(result, kept, name)
+        self.assertEqual(vars(PACT), before)
+
+    def test_dicts_are_new(self):
+        call = importlib.import_module("boundorvoid.spans").run_spans
+        first = call(PACT, RUN)
+        first.clear()
+        self.assertEqual(call(PACT, RUN), {"m": (0, 0), "n": (0, 1)})
+
+    def test_truths_are_bools(self):
+        tell = {"lies_under", "same_web", "row_holds", "ladder_holds", "in_family", "check_court"}
+        for name, call, parameters, told in interface():
+            ahead = [PACT] if parameters[0] == "pact" else []
+            self.assertEqual(isinstance(call(*ahead, *told), bool), name in tell, name)
+
+    def test_integers_are_no_bools(self):
+        for name, call, parameters, told in interface():
+            ahead = [PACT] if parameters[0] == "pact" else []
+            if name in {"level_of", "top_of", "next_level", "telling_count", "count_sendings", "sending_number",
+                        "highest_level"}:
+                self.assertIs(call(*ahead, *told).__class__, int, name)
+
+
+if __name__ == "__main__":
+    unittest.main()
