@@ -93,5 +93,4 @@ def row_moments(pact, hand, row):
 
 def _not_above(pact, note):
     """The lot of all notes under which a note does not lie."""
-    number = pact.note_numbers[note]
-    return tuple([name for name in sorted(pact.names) if not pact.unders[pact.note_numbers[name]] >> number & 1])
+    return tuple([name for name in sorted(pact.names) if not lies_under(pact, note, name)])

@@ -5,7 +5,7 @@ from boundorvoid.errors import NoName
 from boundorvoid.families import all_lots, in_family, need_family
 from boundorvoid.heights import closure_of
 from boundorvoid.lots import with_name, without
-from boundorvoid.pacts import hand_number, has_hand, key_level, lot_mask, mask_lot, notes_of
+from boundorvoid.pacts import all_mask, hand_number, has_hand, key_level, lot_mask, mask_lot, notes_of
 from boundorvoid.values import is_integer
 
 
@@ -141,7 +141,7 @@ def _shows_just(pact, family, table):
 def safe_notes(pact, family):
     """The lot of the notes from which each row that the family asks can be climbed."""
     rows = court_rows(pact, family)
-    mask = (1 << len(pact.names)) - 1
+    mask = all_mask(pact)
     for row in rows:
         mask = mask & lot_mask(pact, row_starts(pact, row))
     return mask_lot(pact, mask)

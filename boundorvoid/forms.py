@@ -3,7 +3,7 @@
 from boundorvoid.errors import InvalidRow
 from boundorvoid.heights import clock_fault
 from boundorvoid.pacts import Pact, has_note, hand_number, mask_lot, note_number, under_of, whole_paper
-from boundorvoid.webs import bare_mask, bare_notes, least_numbers, top_mask
+from boundorvoid.webs import bare_mask, bare_notes, least_numbers, mask_numbers, top_mask
 
 
 def bare_waits(pact, note):
@@ -64,8 +64,7 @@ def telling_count(pact):
 
 def _lots_between(least, greatest):
     """How many masks have all of the least and lie within the greatest."""
-    free = greatest & ~least
-    return 1 << len([at for at in range(free.bit_length()) if free >> at & 1])
+    return 1 << len(mask_numbers(greatest & ~least))
 
 
 def retold_pact(pact, order):

@@ -1,7 +1,7 @@
 """Moments: what may be all that is sent; and the orders in which it may be."""
 
 from boundorvoid.errors import InvalidMoment, InvalidSize
-from boundorvoid.pacts import has_note, lot_mask, mask_lot
+from boundorvoid.pacts import all_mask, has_note, lot_mask, mask_lot
 from boundorvoid.values import is_integer
 from boundorvoid.webs import sendable, top_mask
 
@@ -69,7 +69,7 @@ def joined_moment(pact, moments):
 
 def met_moment(pact, moments):
     """The moment of the notes that all of the moments have."""
-    mask = _all_notes(pact)
+    mask = all_mask(pact)
     for moment in moments:
         mask = mask & moment_mask(pact, moment)
     return mask_lot(pact, mask)
@@ -84,7 +84,7 @@ def all_moments(pact):
     """All moments, those of fewer notes first, then ascending."""
     _need_few([len(row) for row in pact.rows])
     moments = []
-    for layer in _layers_within(pact, _all_notes(pact)):
+    for layer in _layers_within(pact, all_mask(pact)):
         moments.extend(sorted([mask_lot(pact, mask) for mask in layer]))
     return tuple(moments)
 
@@ -129,10 +129,6 @@ def sending_number(pact, moment, value):
         number = number + sum([ways[mask | 1 << at] for at in choices[:choices.index(chosen)]])
         mask = mask | 1 << chosen
     return number
-
-
-def _all_notes(pact):
-    return (1 << len(pact.names)) - 1
 
 
 def _need_few(levels):

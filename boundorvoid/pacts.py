@@ -81,6 +81,11 @@ def lot_mask(pact, lot):
     return mask
 
 
+def all_mask(pact):
+    """The bits of all notes."""
+    return (1 << len(pact.names)) - 1
+
+
 def mask_lot(pact, mask):
     """The lot of the notes whose bits a mask has."""
     return tuple([pact.names[at] for at in pact.by_name if mask >> at & 1])

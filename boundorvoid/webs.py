@@ -3,14 +3,12 @@
 
 def bare_mask(row, unders, number):
     """What a note of a row must be told to wait for: what lies just under it, but for its own note ahead."""
-    below = unders[number] & ~(1 << number)
-    covered = 0
-    for at in mask_numbers(below):
-        covered = covered | unders[at] & ~(1 << at)
+    tops = top_mask(unders, unders[number] & ~(1 << number))
     level = row.index(number)
-    if level > 0:
-        covered = covered | 1 << row[level - 1]
-    return below & ~covered
+    if level == 0:
+        return tops
+    # A note waits for its hand's last one ahead anyway.
+    return tops & ~(1 << row[level - 1])
 
 
 def top_mask(unders, mask):
