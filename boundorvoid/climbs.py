@@ -48,7 +48,14 @@ def climb(pact, hand, row):
 
 def row_holds(pact, hand, row):
     """Whether the climb is whole and ends in the whole paper of the last hand."""
-    notes = climb(pact, hand, row)
+    ready = ready_note(pact, hand)
+    need_row(pact, row)
+    return leads_through(pact, ready, row)
+
+
+def leads_through(pact, note, row):
+    """Whether the climb from a note is whole and ends in the whole paper of the row's last hand."""
+    notes = _notes_above(pact, note, row)
     return len(notes) == len(row) and lies_under(pact, notes[-1], key_note(pact, row[-1]))
 
 

@@ -4,9 +4,10 @@ from boundorvoid.climbs import row_fault, row_holds, row_starts
 from boundorvoid.errors import NoName
 from boundorvoid.families import all_lots, in_family, need_family
 from boundorvoid.heights import closure_of
-from boundorvoid.lots import with_name, without
-from boundorvoid.pacts import all_mask, hand_number, has_hand, key_level, lot_mask, mask_lot, notes_of
-from boundorvoid.values import is_integer
+from boundorvoid.lots import without
+from boundorvoid.pacts import all_mask, hand_lot, hand_number, has_hand, lot_mask, mask_lot, notes_of
+from boundorvoid.reaches import are_in_paper, are_levels, asked_rows, highest_levels, levels_table, ready_numbers
+from boundorvoid.reaches import table_places
 
 
 class Just:
@@ -33,15 +34,7 @@ class Torn:
 def court_rows(pact, family):
     """All rows that a family asks, those of fewer hands first, then ascending."""
     need_family(pact, family)
-    hands = sorted(pact.hands)
-    rows = []
-    heads = [()]
-    while heads:
-        longer = [head + (hand,) for head in heads for hand in hands if hand not in head]
-        rows.extend(longer)
-        # A row can have hands behind it only if its own may lie together.
-        heads = [row for row in longer if in_family(family, row)]
-    return tuple(rows)
+    return tuple(asked_rows(hand_lot(pact), family, ()))
 
 
 def highest_level(pact, lot, hand):
@@ -50,50 +43,36 @@ def highest_level(pact, lot, hand):
         hand_number(pact, name)
     if hand not in lot:
         raise NoName(hand)
-    return _highest_levels(pact, (without(lot, hand),))[(lot, hand)]
+    return _court_levels(pact, (without(lot, hand),))[(lot, hand)]
 
 
-def _highest_levels(pact, family):
+def _court_levels(pact, family):
     """The highest level for each lot with a hand that a lot of the family lacks, and that hand, in court's order."""
-    levels = {}
-    for lot, hand in _table_places(pact, family):
-        levels[(with_name(lot, hand), hand)] = _level_above(pact, levels, lot, hand)
-    return levels
+    return highest_levels(pact, ready_numbers(pact), _court_places(pact, family))
 
 
-def _table_places(pact, family):
-    """The lots of a family, each with each hand that it lacks."""
-    hands = sorted(pact.hands)
-    return [(lot, hand) for lot in all_lots(family) for hand in hands if hand not in lot]
-
-
-def _level_above(pact, levels, lot, hand):
-    """The greatest next level of a hand for the ready notes, or for the notes of a lot at their levels in it."""
-    number = pact.hand_numbers[hand]
-    top = len(pact.rows[number])
-    if not lot:
-        return max([pact.nexts[pact.note_numbers[name]][number] for name in pact.ready])
-    found = []
-    for other in lot:
-        row = pact.rows[pact.hand_numbers[other]]
-        level = levels[(lot, other)]
-        found.append(pact.nexts[row[level]][number] if level < len(row) else top)
-    return max(found)
+def _court_places(pact, family):
+    return table_places(hand_lot(pact), all_lots(family))
 
 
 def court_table(pact, family):
     """The highest levels for the lots of a family: triples of a lot with a hand more, this hand, its level."""
     need_family(pact, family)
-    return tuple([(lot, hand, level) for (lot, hand), level in _highest_levels(pact, family).items()])
+    return levels_table(_court_levels(pact, family))
 
 
 def court(pact, family):
     """What the court finds: a table that shows the pact just for the family, or the first row that fails."""
-    table = court_table(pact, family)
-    # A level above that of a key note is just what a failing row comes to.
-    if all([level <= key_level(pact, pact.hand_numbers[hand]) for _, hand, level in table]):
-        return Just(table)
+    need_family(pact, family)
+    levels = _court_levels(pact, family)
+    if are_in_paper(pact, levels):
+        return Just(levels_table(levels))
     return _first_torn(pact, court_rows(pact, family))
+
+
+def is_just(pact, family):
+    """Whether the pact is just for a family, of which nothing is checked."""
+    return are_in_paper(pact, _court_levels(pact, family))
 
 
 def _first_torn(pact, rows):
@@ -110,7 +89,7 @@ def check_court(pact, family, value):
     if isinstance(value, Torn):
         return _shows_torn(pact, family, value.hand, value.row)
     if isinstance(value, Just):
-        return _shows_just(pact, family, value.table)
+        return are_levels(pact, ready_numbers(pact), _court_places(pact, family), value.table)
     return False
 
 
@@ -119,23 +98,6 @@ def _shows_torn(pact, family, hand, row):
     if not has_hand(pact, hand) or row_fault(pact, row) is not None:
         return False
     return in_family(family, row[:-1]) and not row_holds(pact, hand, row)
-
-
-def _shows_just(pact, family, table):
-    """Whether any value is a table of levels none of which is too high, or too low for those ahead of it."""
-    places = _table_places(pact, family)
-    if not isinstance(table, tuple) or len(table) != len(places):
-        return False
-    levels = {}
-    for (lot, hand), thing in zip(places, table):
-        place = (with_name(lot, hand), hand)
-        if not isinstance(thing, tuple) or len(thing) != 3 or thing[:2] != place or not is_integer(thing[2]):
-            return False
-        least = _level_above(pact, levels, lot, hand)
-        if not least <= thing[2] <= key_level(pact, pact.hand_numbers[hand]):
-            return False
-        levels[place] = thing[2]
-    return True
 
 
 def safe_notes(pact, family):

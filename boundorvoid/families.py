@@ -7,14 +7,19 @@ from boundorvoid.values import is_lot_of, is_name, rises
 
 def need_family(pact, value):
     """Refuse any value that is no family of the pact's hands."""
+    fault = family_fault(pact, value)
+    if fault is not None:
+        raise InvalidFamily(fault)
+
+
+def family_fault(pact, value):
+    """The first wrong place of any value that should be a family, -1 for none at all; None for a family."""
     if not isinstance(value, tuple) or not value:
-        raise InvalidFamily(-1)
+        return -1
     for at, thing in enumerate(value):
         if not is_lot_of(thing, pact.hands) or at > 0 and not value[at - 1] < thing:
-            raise InvalidFamily(at)
-    inner = first_inner(value)
-    if inner is not None:
-        raise InvalidFamily(inner)
+            return at
+    return first_inner(value)
 
 
 def first_inner(lots):

@@ -59,6 +59,11 @@ def has_note(pact, value):
     return is_known(value, pact.note_numbers)
 
 
+def hand_lot(pact):
+    """The lot of the hands."""
+    return tuple(sorted(pact.hands))
+
+
 def hand_number(pact, hand):
     """The number of a hand."""
     if hand not in pact.hand_numbers:

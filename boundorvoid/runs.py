@@ -17,15 +17,23 @@ def is_answer(value):
 
 def need_run(pact, value):
     """A value that is a run, as it is."""
+    fault = run_fault(pact, value)
+    if fault is not None:
+        raise InvalidRun(fault)
+    return value
+
+
+def run_fault(pact, value):
+    """The first wrong event of any value that should be a run, -1 for what is no tuple; None for a run."""
     if not isinstance(value, tuple):
-        raise InvalidRun(-1)
+        return -1
     sent = 0
     for at, event in enumerate(value):
         if not _is_send(pact, event, sent) and not _is_ask(pact, event, sent):
-            raise InvalidRun(at)
+            return at
         if event[0] == SEND:
             sent = sent | 1 << pact.note_numbers[event[1]]
-    return value
+    return None
 
 
 def _is_send(pact, event, sent):
@@ -125,12 +133,33 @@ def heard_liars(pact, heard):
     return tuple(sorted(liars))
 
 
-def shown_mask(pact, heard):
-    """The bits of all notes that are shown in a heard."""
+def shown_mask(pact, asks):
+    """The bits of all notes that are shown in a heard, or in a history."""
     shown = 0
-    for _, moment in heard:
-        shown = shown | lot_mask(pact, moment)
+    for ask in asks:
+        shown = shown | lot_mask(pact, ask[1])
     return shown
+
+
+def asks_of(history):
+    """The heard of a history."""
+    return tuple([(hand, moment) for hand, moment, _ in history])
+
+
+def told_answer(history, hand):
+    """What a hand was told in a history; None for one that is not in it."""
+    for other, _, answer in history:
+        if other == hand:
+            return answer
+    return None
+
+
+def first_bound(history):
+    """The number of the first entry that tells bound, or None."""
+    for at, (_, _, answer) in enumerate(history):
+        if answer == BOUND:
+            return at
+    return None
 
 
 def heard_run(pact, heard):

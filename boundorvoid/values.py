@@ -9,6 +9,11 @@ def is_integer(value):
     return isinstance(value, int) and not isinstance(value, bool)
 
 
+def is_number(value):
+    """Whether a value is an integer from 0 on."""
+    return is_integer(value) and value >= 0
+
+
 def is_sequence(value):
     """Whether a value is a list or a tuple."""
     return isinstance(value, (list, tuple))

@@ -27,22 +27,41 @@ class Facts:
 def replay(pact, run, rule):
     """The history that a rule makes of the first asks of a run."""
     need_run(pact, run)
-    history = ()
-    for _, hand, moment in first_asks(run):
-        answer = rule(history, hand, moment)
-        if not is_answer(answer):
-            raise Refused("answer")
-        history = history + ((hand, moment, answer),)
+    return told_history((), [(hand, moment) for _, hand, moment in first_asks(run)], rule)
+
+
+def told_history(history, asks, rule):
+    """A history with more asks, told what a rule answers to each of them."""
+    for hand, moment in asks:
+        history = history + ((hand, moment, _answer_by(rule, history, hand, moment)),)
     return history
+
+
+def _answer_by(rule, history, hand, moment):
+    """What a rule returns, which must be an answer."""
+    answer = rule(history, hand, moment)
+    if not is_answer(answer):
+        raise Refused("answer")
+    return answer
+
+
+def ask_bound_by(history, asks, rule):
+    """The number of the first of some asks behind a history that a rule tells bound, or None."""
+    for at, (hand, moment) in enumerate(asks):
+        answer = _answer_by(rule, history, hand, moment)
+        if answer == BOUND:
+            return at
+        history = history + ((hand, moment, answer),)
+    return None
 
 
 def run_wrongs(pact, run, answers):
     """Who is wronged in a run by the answers to its first asks: triples of hand, event and word."""
     need_run(pact, run)
-    return tuple(_wrongs_by(Facts(pact, run), answers))
+    return tuple(wrongs_by(Facts(pact, run), answers))
 
 
-def _wrongs_by(facts, answers):
+def wrongs_by(facts, answers):
     """The wrongs of some answers, honest hands in the hands' order."""
     bounds = []
     voids = {}
@@ -80,7 +99,7 @@ def good_answers(pact, run):
     rows = [()]
     for _ in facts.asks:
         rows = [row + (answer,) for row in rows for answer in (BOUND, VOID)]
-    return tuple([row for row in rows if not _wrongs_by(facts, row)])
+    return tuple([row for row in rows if not wrongs_by(facts, row)])
 
 
 def hopeless_run(pact):

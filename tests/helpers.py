@@ -4,7 +4,9 @@ import itertools
 import random
 
 from boundorvoid.pacts import Pact
+from boundorvoid.runs import run_heard, run_liars
 from boundorvoid.texts import read_pact
+from boundorvoid.wrongs import good_answers
 
 BASE = ["hands a b", "note m a", "note n b m", "note o a n", "note p b o"]
 
@@ -161,6 +163,44 @@ def random_run(rng, pact, most=14, ask=0.35):
     return tuple(run)
 
 
+def random_asks(rng, pact, many=None):
+    """Asks of unlike hands with any moments, those of few notes and of many alike."""
+    moments = naive_moments(pact)
+    hands = rng.sample(pact.hands, rng.randint(0, len(pact.hands)) if many is None else many)
+    return tuple((hand, rng.choice(moments)) for hand in hands)
+
+
+def rising_asks(rng, pact, many=None):
+    """Asks of unlike hands, each of whom mostly shows what was shown ahead, and more."""
+    moments = naive_moments(pact)
+    hands = rng.sample(pact.hands, rng.randint(0, len(pact.hands)) if many is None else many)
+    asks, shown = [], ()
+    for hand in hands:
+        if rng.random() < 0.8:
+            shown = rng.choice([moment for moment in moments if set(shown) <= set(moment)])
+        asks.append((hand, shown if rng.random() < 0.7 else rng.choice(moments)))
+    return tuple(asks)
+
+
+def random_history(rng, pact, many=None, bound=0.2):
+    """Asks with any answers, most of them void."""
+    asks = rng.choice((random_asks, rising_asks))(rng, pact, many)
+    return tuple((hand, moment, "bound" if rng.random() < bound else "void") for hand, moment in asks)
+
+
+def random_rule(seed):
+    """A rule whose answers are drawn, but the same for the same arguments."""
+    told = {}
+
+    def rule(history, hand, moment):
+        key = (history, hand, moment)
+        if key not in told:
+            told[key] = random.Random(f"{seed} {key!r}").choice(("bound", "void", "void"))
+        return told[key]
+
+    return rule
+
+
 def all_families(hands):
     """All families of a lot of hands."""
     lots = subsets(sorted(hands))
@@ -194,3 +234,42 @@ def raised(error, call, *told, **named):
         kept = [value for value in vars(wrong).values()]
         return kept[0] if kept else None
     raise AssertionError(f"{error.__name__} was not raised, but {got!r} returned")
+
+
+def games(pact):
+    """All runs of a pact, each with its liars, its heard, and the tuples of answers that wrong somebody there."""
+    found = []
+    for run in all_runs(pact):
+        heard = run_heard(pact, run)
+        rows = set(itertools.product(("bound", "void"), repeat=len(heard))) - set(good_answers(pact, run))
+        found.append((run_liars(pact, run), heard, rows))
+    return found
+
+
+class Game:
+    """What a notary can still reach behind some asks and answers, if just the runs that fit a family come."""
+
+    def __init__(self, games, family):
+        self.wrong, self.longer = {(): set()}, {}
+        for liars, heard, rows in games:
+            if any(set(liars) <= set(lot) for lot in family):
+                self.wrong.setdefault(heard, set()).update(rows)
+        for heard in list(self.wrong):
+            for many in range(len(heard)):
+                self.wrong.setdefault(heard[:many], set())
+        for heard in self.wrong:
+            if heard:
+                self.longer.setdefault(heard[:-1], []).append(heard)
+        self.known = {}
+
+    def is_possible(self, heard):
+        return heard in self.wrong
+
+    def is_safe(self, heard, answers):
+        """Whether some rule with these answers is wrong in no such run whose first asks begin with these."""
+        key = heard, answers
+        if key not in self.known:
+            self.known[key] = answers not in self.wrong[heard] and all(
+                any(self.is_safe(longer, answers + (answer,)) for answer in ("bound", "void"))
+                for longer in self.longer.get(heard, []))
+        return self.known[key]

@@ -56,6 +56,51 @@ COURT = """
     (('m', 'n'), ('m', 'n', 'o'))
 """
 
+DOOMS = """
+    >>> from boundorvoid.texts import read_pact
+    >>> from boundorvoid.dooms import coin_depths, least_trap
+    >>> from boundorvoid.rules import ask_chain, deep_answer, plain_answer
+    >>> rows = ["hands a b", "note m a", "note n b m", "note o a n"]
+    >>> pact = read_pact("\\n".join(rows + ["ready m n", "paper n o"]))
+    >>> family, history = (("a",), ("b",)), (("a", ("m",), "void"),)
+    >>> ask_chain(pact, history, "b", ("m", "n")), plain_answer(pact, history, "b", ("m", "n"))
+    (('b', ('a', 'b')), 'void')
+    >>> coin_depths(pact, family), deep_answer(pact, history, "b", ("m", "n"), depth=1)
+    ((1, None), 'bound')
+    >>> [run[3:] for run in least_trap(pact, family)]
+    [(('ask', 'b', ('m', 'n')),), (('ask', 'b', ('m', 'n')), ('send', 'o'))]
+"""
+
+BOOKED = """
+    >>> from boundorvoid.texts import read_pact
+    >>> from boundorvoid.booked import book_entry
+    >>> from boundorvoid.prospects import bound_bars, prospect
+    >>> from boundorvoid.rightly import first_limits, right_answers
+    >>> rows = ["hands a b", "note m a", "note n b m", "note o a n", "note p b o", "ready m n", "paper p"]
+    >>> pact, family, history = read_pact("\\n".join(rows)), (("a",), ("b",)), (("a", ("m",), "void"),)
+    >>> bound_bars(pact, history), prospect(pact, family, history).table
+    ((('a', 'parted', 'o'), ('b', 'unready', 'n')), ((('b',), 'b', 1),))
+    >>> [right_answers(pact, family, history, "b", ("m", "n", "o", "p")[:many]) for many in (2, 3, 4)]
+    [('void',), ('bound', 'void'), ('bound',)]
+    >>> first_limits(pact, family), book_entry(pact, ()), book_entry(pact, (("a", ("m",)),))
+    ((1, 0), ('awaited', ('n',), (1, 1)), ('awaited', ('o',), ()))
+"""
+
+BORNE = """
+    >>> from boundorvoid.borne import failing_rows, greatest_family, least_barred, trusted_lots
+    >>> from boundorvoid.kept import kept_lots, torn_in
+    >>> from boundorvoid.texts import read_pact
+    >>> rows = ["hands a b c", "note m a", "note n b m", "note o c n", "note p a o", "note q b p"]
+    >>> pact = read_pact("\\n".join(rows + ["ready m n o", "paper q"]))
+    >>> failing_rows(pact)[:3]
+    (('b', ('a', 'c')), ('c', ('a', 'c')), ('c', ('b', 'a')))
+    >>> greatest_family(pact), least_barred(pact), trusted_lots(pact)
+    ((('c',),), (('a',), ('b',)), (('a', 'b'),))
+    >>> family = (("a",), ("b",), ("c",))
+    >>> kept_lots(pact, family), torn_in(pact, family, ("a", "c")).row
+    ((('c',), ('a', 'b')), ('a', 'c'))
+"""
+
 
 class ExamplesTest(unittest.TestCase):
     def check(self, name, text):
@@ -76,6 +121,15 @@ class ExamplesTest(unittest.TestCase):
 
     def test_court(self):
         self.check("court", COURT)
+
+    def test_dooms(self):
+        self.check("dooms", DOOMS)
+
+    def test_booked(self):
+        self.check("booked", BOOKED)
+
+    def test_borne(self):
+        self.check("borne", BORNE)
 
     def test_readme(self):
         readme = pathlib.Path(__file__).resolve().parent.parent / "README.md"

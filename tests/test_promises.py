@@ -4,8 +4,10 @@ import copy
 import importlib
 import unittest
 
+from boundorvoid.borne import borne_paper
 from boundorvoid.court import Just, Torn, court
 from boundorvoid.pacts import Pact
+from boundorvoid.prospects import Lost, Safe
 from boundorvoid.texts import pact_text
 
 from tests.helpers import base_pact
@@ -14,6 +16,7 @@ from tests.test_interface import INTERFACE
 PACT = base_pact()
 # The same names, but other waits, ready notes and paper.
 OTHER = Pact(["a", "b"], [("m", "a", ()), ("n", "b", ()), ("o", "a", ()), ("p", "b", ("m",))], ["o", "p"], ("o", "p"))
+TORN = base_pact("n")
 ALL = ("m", "n", "o", "p")
 FAMILY = (("a",), ("b",))
 RUN = (("send", "m"), ("ask", "a", ("m",)), ("send", "n"), ("ask", "b", ("m", "n")), ("ask", "a", ()))
@@ -54,9 +57,28 @@ CALLS = {
     "Just": [()], "Torn": ["a", ("b",)], "court_rows": [FAMILY], "highest_level": [("a", "b"), "b"],
     "court_table": [FAMILY], "court": [FAMILY], "check_court": [FAMILY, court(PACT, FAMILY)],
     "safe_notes": [FAMILY], "least_paper": [FAMILY],
+    "plain_reasons": [HISTORY[:1], "b", ("m",)], "plain_answer": [HISTORY[:1], "b", ("m",)],
+    "ask_rank": [HISTORY[:1], "b", ("m",)], "ask_chain": [HISTORY[:1], "b", ("m", "n")],
+    "deep_answer": [HISTORY[:1], "b", ("m", "n")],
+    "failing_part": ["b", ("a", "b")], "row_trap": ["b", ("a", "b")], "doom_run": ["b", ("a", "b"), rule],
+    "wrong_runs": [[RUN, RUN[:2]], rule], "fewest_wrong": [[RUN, RUN]], "trap_holds": [FAMILY, (RUN,)],
+    "least_trap": [FAMILY], "coin_depths": [FAMILY], "least_depth": [FAMILY], "depth_run": [FAMILY, 1],
+    "Safe": [()], "Lost": ["a", None, ()], "bound_bars": [HISTORY[:1]], "prospect": [FAMILY, HISTORY[:1]],
+    "check_prospect": [FAMILY, HISTORY[:1], Safe(((("b",), "b", 1),))], "lost_runs": [HISTORY, Lost("a", None, ())],
+    "right_answers": [FAMILY, HISTORY[:1], "b", ("m", "n")], "first_wrong_answer": [FAMILY, HISTORY],
+    "wrong_rule_run": [FAMILY, HEARD, rule], "right_rows": [FAMILY, HEARD], "first_limits": [FAMILY],
+    "book_entry": [HEARD[:1]], "parting_asks": [HEARD[:1], (("a", ("m", "n", "o")),)], "book_entries": [],
+    "failing_rows": [], "bears_lot": [("a",)], "wronged_by": [("a",)], "least_barred": [], "greatest_family": [],
+    "least_meets": [[("a", "b"), ("b", "c"), ("b", "c")]], "trusted_lots": [], "liars_borne": [], "borne_paper": [],
+    "borne_holds": [borne_paper(PACT)],
+    "torn_in": [FAMILY, ("a", "b")], "keeping_answer": [("a",), HISTORY[:1], "b", ("m", "n")],
+    "cut_pact": [("a", "b")], "cut_family": [("a",), FAMILY], "least_unkept": [FAMILY], "kept_lots": [FAMILY],
+    "spared_lots": [FAMILY], "kept_family": [("a", "b")], "keeping_pairs": [],
+    "share_pact": [["a", "b", "c"], (("a", "b"),)],
 }
 WHERE_SEQUENCES = {"Pact": (0, 1, 2), "clocked_notes": (0, 1), "joined_moment": (0,), "met_moment": (0,),
-                   "run_wrongs": (1,), "family_of": (0,), "family_barring": (1,)}
+                   "run_wrongs": (1,), "family_of": (0,), "family_barring": (1,), "wrong_runs": (0,),
+                   "fewest_wrong": (0,), "least_meets": (0,), "share_pact": (0,)}
 
 
 def interface():
@@ -64,6 +86,13 @@ def interface():
     for stem, names in INTERFACE.items():
         for name, told in names.items():
             yield name, getattr(importlib.import_module("boundorvoid." + stem), name), told.split(), CALLS[name]
+
+
+def pact_for(name, parameters):
+    """What each call begins with: a pact, if it takes one, for which it returns something."""
+    if parameters[0] != "pact":
+        return []
+    return [TORN if name in ("row_trap", "doom_run", "least_trap", "coin_depths", "depth_run") else PACT]
 
 
 def as_tuples(value):
@@ -74,9 +103,9 @@ def has_lists(value):
     """Whether some list or set is in what was returned."""
     if isinstance(value, dict):
         return any(map(has_lists, value.values()))
-    if isinstance(value, (Pact, Just, Torn)):
+    if isinstance(value, (Pact, Just, Torn, Safe, Lost)):
         return any(map(has_lists, [getattr(value, name) for name in
-                                   ("hands", "notes", "ready", "paper", "names", "table", "hand", "row")
+                                   ("hands", "notes", "ready", "paper", "names", "table", "hand", "note", "row")
                                    if hasattr(value, name)]))
     if isinstance(value, tuple):
         return any(map(has_lists, value))
@@ -89,7 +118,7 @@ class PromisesTest(unittest.TestCase):
 
     def test_by_position_and_by_name_and_again(self):
         for name, call, parameters, told in interface():
-            ahead = [PACT] if parameters[0] == "pact" else []
+            ahead = pact_for(name, parameters)
             result = call(*ahead, *told)
             self.assertEqual(call(**dict(zip(parameters, ahead + told))), result, name)
             if ahead:
@@ -102,7 +131,7 @@ class PromisesTest(unittest.TestCase):
 
     def test_sequences_as_lists_or_tuples(self):
         for name, call, parameters, told in interface():
-            ahead = [PACT] if parameters[0] == "pact" else []
+            ahead = pact_for(name, parameters)
             for at in WHERE_SEQUENCES.get(name, ()):
                 self.assertIsInstance(told[at], list)
             listed = {at for at, value in enumerate(told) if isinstance(value, list)}
@@ -112,7 +141,7 @@ class PromisesTest(unittest.TestCase):
     def test_arguments_are_not_changed_and_not_needed_later(self):
         before = {name: copy.deepcopy(vars(PACT)[name]) for name in vars(PACT)}
         for name, call, parameters, told in interface():
-            ahead = [PACT] if parameters[0] == "pact" else []
+            ahead = pact_for(name, parameters)
             handed = [list(value) if isinstance(value, list) else value for value in told]
             result = call(*ahead, *handed)
             self.assertEqual(handed, told, name)
@@ -130,16 +159,17 @@ class PromisesTest(unittest.TestCase):
         self.assertEqual(call(PACT, RUN), {"m": (0, 0), "n": (0, 1)})
 
     def test_truths_are_bools(self):
-        tell = {"lies_under", "same_web", "row_holds", "ladder_holds", "in_family", "check_court"}
+        tell = {"lies_under", "same_web", "row_holds", "ladder_holds", "in_family", "check_court", "trap_holds",
+                "check_prospect", "bears_lot", "borne_holds"}
         for name, call, parameters, told in interface():
-            ahead = [PACT] if parameters[0] == "pact" else []
+            ahead = pact_for(name, parameters)
             self.assertEqual(isinstance(call(*ahead, *told), bool), name in tell, name)
 
     def test_integers_are_no_bools(self):
         for name, call, parameters, told in interface():
-            ahead = [PACT] if parameters[0] == "pact" else []
+            ahead = pact_for(name, parameters)
             if name in {"level_of", "top_of", "next_level", "telling_count", "count_sendings", "sending_number",
-                        "highest_level"}:
+                        "highest_level", "ask_rank", "fewest_wrong", "least_depth", "liars_borne"}:
                 self.assertIs(call(*ahead, *told).__class__, int, name)
 
 
