@@ -8,7 +8,7 @@ from boundorvoid.heights import closure_of
 from boundorvoid.lots import lies_within, with_name
 from boundorvoid.moments import all_moments
 from boundorvoid.pacts import lot_mask, mask_lot, notes_of
-from boundorvoid.parts import joined_mask
+from boundorvoid.parts import bits_of, joined_mask
 from boundorvoid.reaches import ready_numbers
 from boundorvoid.runs import BOUND, VOID, need_heard
 from boundorvoid.webs import mask_numbers, top_mask
@@ -71,15 +71,8 @@ def _entry_of(pact, told):
     if numbers is None:
         return (NEVER,)
     under = joined_mask(pact.unders, numbers)
-    return AWAITED, mask_lot(pact, _tops_of(pact, numbers)), _fresh_levels(pact, told, seen | under)
-
-
-def _tops_of(pact, numbers):
-    """The bits of those of some notes that lie under no other one of them."""
-    mask = 0
-    for at in numbers:
-        mask = mask | 1 << at
-    return top_mask(pact.unders, mask)
+    tops = top_mask(pact.unders, bits_of(numbers))
+    return AWAITED, mask_lot(pact, tops), _fresh_levels(pact, told, seen | under)
 
 
 def _fresh_levels(pact, told, known):

@@ -38,3 +38,11 @@ def greatest_lots(lots):
 
 def _lies_within_other(lot, lots):
     return any([lot != other and lies_within(lot, other) for other in lots])
+
+
+def orders_of(lot):
+    """All orders of the names of a lot, ascending."""
+    rows = [()]
+    for _ in lot:
+        rows = [row + (name,) for row in rows for name in lot if name not in row]
+    return rows

@@ -67,6 +67,14 @@ def joined_mask(masks, numbers):
     return joined
 
 
+def bits_of(numbers):
+    """The mask that has the bits with these numbers."""
+    mask = 0
+    for number in numbers:
+        mask = mask | 1 << number
+    return mask
+
+
 def rows_by_hand(hands, notes):
     """For each hand the numbers of its notes, as told."""
     return tuple([tuple([at for at, note in enumerate(notes) if note[1] == hand]) for hand in hands])

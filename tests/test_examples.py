@@ -101,6 +101,27 @@ BORNE = """
     ((('c',), ('a', 'b')), ('a', 'c'))
 """
 
+TURNS = """
+    >>> from boundorvoid.shortest import next_writers
+    >>> from boundorvoid.tallies import turns_at, turns_count
+    >>> from boundorvoid.wishes import family_wishes, wants_behind
+    >>> three, one_lies = ("a", "b", "c"), (("a",), ("b",), ("c",))
+    >>> turns_count(three, one_lies, 7), turns_at(three, one_lies, 7, 0)
+    (24, ('a', 'b', 'c', 'a', 'b', 'a', 'c'))
+    >>> next_writers(three, one_lies, ("a", "b", "c", "b"))
+    ('a',)
+    >>> wants_behind(family_wishes(three, one_lies), ("c", "b"))
+    (('a', 'b'), ('a', 'c'))
+"""
+
+MENDS = """
+    >>> from boundorvoid.mends import row_waits, turns_behind
+    >>> from boundorvoid.texts import read_pact
+    >>> loose = read_pact("hands a b\\nnote m a\\nnote n b\\nready m n\\npaper m n")
+    >>> turns_behind(loose, (("a",), ("b",))), row_waits(loose, "a", ("b",)), row_waits(loose, "a", ("b", "a"))
+    (('a', 'b', 'a'), (('n', 'm'),), None)
+"""
+
 
 class ExamplesTest(unittest.TestCase):
     def check(self, name, text):
@@ -130,6 +151,12 @@ class ExamplesTest(unittest.TestCase):
 
     def test_borne(self):
         self.check("borne", BORNE)
+
+    def test_turns(self):
+        self.check("turns", TURNS)
+
+    def test_mends(self):
+        self.check("mends", MENDS)
 
     def test_readme(self):
         readme = pathlib.Path(__file__).resolve().parent.parent / "README.md"

@@ -173,6 +173,9 @@ class LanguageTest(unittest.TestCase):
                 if isinstance(node, ast.Call) and isinstance(node.func, ast.Name):
                     if node.func.id in FOLDED | {"len", "enumerate", "zip", "dict"} and node.args:
                         at_once[node.args[0]] = node.func.id
+                    if node.func.id == "reversed" and isinstance(node.args[0], ast.Call):
+                        self.assertEqual(node.args[0].func.id, "range", (stem, node.lineno))
+                        at_once[node.args[0]] = "reversed"
             for node in ast.walk(tree):
                 if not isinstance(node, ast.Call) or not isinstance(node.func, ast.Name):
                     continue

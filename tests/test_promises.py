@@ -22,6 +22,8 @@ FAMILY = (("a",), ("b",))
 RUN = (("send", "m"), ("ask", "a", ("m",)), ("send", "n"), ("ask", "b", ("m", "n")), ("ask", "a", ()))
 HEARD = (("a", ("m",)), ("b", ("m", "n")))
 HISTORY = (("a", ("m",), "void"), ("b", ("m", "n"), "bound"))
+TURNS = ("a", "b", "a", "b")
+WISHES = (("a", "b"), ("b", "a"))
 TABLE = (((1, 0), (2, 1)), ((1, 1), (2, 2)))
 
 
@@ -75,10 +77,31 @@ CALLS = {
     "cut_pact": [("a", "b")], "cut_family": [("a",), FAMILY], "least_unkept": [FAMILY], "kept_lots": [FAMILY],
     "spared_lots": [FAMILY], "kept_family": [("a", "b")], "keeping_pairs": [],
     "share_pact": [["a", "b", "c"], (("a", "b"),)],
+    "turns_pact": [("a", "b"), TURNS], "pact_turns": [], "lined_pact": [], "part_places": [TURNS, ("a", "b")],
+    "turns_lack": [("a", "b"), FAMILY, TURNS[:2]],
+    "need_wishes": [("a", "b"), WISHES], "most_wishes": [[("a", "b"), ("a",), ("b",)]],
+    "family_wishes": [("a", "b"), FAMILY], "wishes_held": [WISHES, TURNS], "wants_behind": [WISHES, ("a",)],
+    "avoiding_turns": [("a", "b"), ("a", "b"), 2], "telling_turns": [("a", "b"), WISHES, ("a",), ("b",)],
+    "wishes_machine": [("a", "b"), WISHES], "stretch_count": [("a", "b"), WISHES, 3],
+    "turns_count": [("a", "b"), FAMILY, 5], "turns_at": [("a", "b"), FAMILY, 5, 1],
+    "turns_place": [("a", "b"), FAMILY, TURNS],
+    "fewest_stretch": [("a", "b"), WISHES], "fewest_more": [("a", "b"), FAMILY, ("a",)],
+    "next_writers": [("a", "b"), FAMILY, ("a",)], "cheapest_turns": [("a", "b"), FAMILY, (1, 2)],
+    "price_table": [("a", "b"), WISHES, (1, 2)],
+    "table_price": [("a", "b"), WISHES, (1, 2), ((WISHES, 1), ((), 0))],
+    "needless_turns": [("a", "b"), FAMILY, TURNS + ("a",)], "tight_stretches": [("a", "b"), WISHES],
+    "tight_turns": [("a", "b"), FAMILY], "turn_reach": [("a", "b"), TURNS], "turn_liars": [("a", "b"), TURNS],
+    "rounds_needed": [("a", "b"), FAMILY, ("a", "b")],
+    "dropped_pact": [("o",)], "loosened_pact": ["p", "o"], "thin_notes": [FAMILY], "bone_pact": [FAMILY],
+    "tight_fault": [((),)], "tight_pact": [((),)],
+    "wider_pact": [[("o", "n"), ("p", "m")]], "row_rectangles": ["b", ("a", "b")], "one_waits": [FAMILY],
+    "row_waits": ["b", ("a", "b")], "just_order": [FAMILY], "behind_pact": [["a", "b", "a"]],
+    "turns_behind": [FAMILY],
 }
 WHERE_SEQUENCES = {"Pact": (0, 1, 2), "clocked_notes": (0, 1), "joined_moment": (0,), "met_moment": (0,),
                    "run_wrongs": (1,), "family_of": (0,), "family_barring": (1,), "wrong_runs": (0,),
-                   "fewest_wrong": (0,), "least_meets": (0,), "share_pact": (0,)}
+                   "fewest_wrong": (0,), "least_meets": (0,), "share_pact": (0,), "most_wishes": (0,),
+                   "wider_pact": (0,), "behind_pact": (0,)}
 
 
 def interface():
@@ -160,7 +183,7 @@ class PromisesTest(unittest.TestCase):
 
     def test_truths_are_bools(self):
         tell = {"lies_under", "same_web", "row_holds", "ladder_holds", "in_family", "check_court", "trap_holds",
-                "check_prospect", "bears_lot", "borne_holds"}
+                "check_prospect", "bears_lot", "borne_holds", "wishes_held"}
         for name, call, parameters, told in interface():
             ahead = pact_for(name, parameters)
             self.assertEqual(isinstance(call(*ahead, *told), bool), name in tell, name)
@@ -169,7 +192,9 @@ class PromisesTest(unittest.TestCase):
         for name, call, parameters, told in interface():
             ahead = pact_for(name, parameters)
             if name in {"level_of", "top_of", "next_level", "telling_count", "count_sendings", "sending_number",
-                        "highest_level", "ask_rank", "fewest_wrong", "least_depth", "liars_borne"}:
+                        "highest_level", "ask_rank", "fewest_wrong", "least_depth", "liars_borne",
+                        "stretch_count", "turns_count", "turns_place", "fewest_more", "table_price", "turn_reach",
+                        "turn_liars", "rounds_needed"}:
                 self.assertIs(call(*ahead, *told).__class__, int, name)
 
 
