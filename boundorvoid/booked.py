@@ -30,10 +30,9 @@ def book_entry(pact, heard):
 
 def _with_ask(pact, told, number, mask):
     """What is told with one more ask, which the plain rule answers."""
-    answer = VOID
-    if _is_bound(told) or _awaited_numbers(pact, told, _seen_mask(told) | mask) == []:
-        answer = BOUND
-    return [*told, (number, mask, answer)]
+    # Once somebody is told bound, nothing is awaited any more.
+    awaited = _awaited_numbers(pact, told, _seen_mask(told) | mask)
+    return [*told, (number, mask, BOUND if awaited == [] else VOID)]
 
 
 def _is_bound(told):

@@ -4,7 +4,7 @@ from boundorvoid.climbs import row_fault, row_holds
 from boundorvoid.court import Just, Torn, check_court, court
 from boundorvoid.families import barred_lots, family_fault, family_of
 from boundorvoid.lots import lies_within, parts_of, sized_order, without
-from boundorvoid.pacts import hand_lot, hand_number, has_hand, key_level
+from boundorvoid.pacts import hand_lot, has_hand, key_level, need_hands
 from boundorvoid.reaches import asked_rows, highest_levels, ready_numbers, table_places, wronged_hands
 
 
@@ -39,8 +39,7 @@ def _failing_from(pact, hand, rows):
 
 def bears_lot(pact, lot):
     """Whether the pact is just if the hands of a lot, and of all its parts, may lie together."""
-    for hand in lot:
-        hand_number(pact, hand)
+    need_hands(pact, lot)
     return not wronged_hands(pact, _levels_within(pact, lot))
 
 
@@ -51,8 +50,7 @@ def _levels_within(pact, lot):
 
 def wronged_by(pact, lot):
     """The lot of the hands outside a lot with which a failing row ends whose others are all of the lot."""
-    for hand in lot:
-        hand_number(pact, hand)
+    need_hands(pact, lot)
     return tuple(wronged_hands(pact, _levels_within(pact, lot)).get(lot, []))
 
 

@@ -5,7 +5,7 @@ from boundorvoid.errors import NoName
 from boundorvoid.families import all_lots, in_family, need_family
 from boundorvoid.heights import closure_of
 from boundorvoid.lots import without
-from boundorvoid.pacts import all_mask, hand_lot, hand_number, has_hand, lot_mask, mask_lot, notes_of
+from boundorvoid.pacts import all_mask, hand_lot, has_hand, lot_mask, mask_lot, need_hands, notes_of
 from boundorvoid.reaches import are_in_paper, are_levels, asked_rows, highest_levels, levels_table, ready_numbers
 from boundorvoid.reaches import table_places
 
@@ -39,8 +39,7 @@ def court_rows(pact, family):
 
 def highest_level(pact, lot, hand):
     """The greatest level of a hand to which climbs come by rows of all of a lot with this hand last."""
-    for name in lot:
-        hand_number(pact, name)
+    need_hands(pact, lot)
     if hand not in lot:
         raise NoName(hand)
     return _court_levels(pact, (without(lot, hand),))[(lot, hand)]

@@ -5,7 +5,7 @@ from boundorvoid.climbs import row_holds
 from boundorvoid.errors import InvalidSize
 from boundorvoid.families import family_of, in_family, need_family
 from boundorvoid.lots import parts_of, sized_order, with_name, without
-from boundorvoid.pacts import Pact, hand_lot, hand_number, lot_mask, mask_lot
+from boundorvoid.pacts import Pact, hand_lot, lot_mask, mask_lot, need_hands
 from boundorvoid.reaches import are_in_paper, asked_rows, highest_levels, table_places
 from boundorvoid.rules import need_ask, unready_hands, unshown_hands
 from boundorvoid.runs import BOUND, VOID, first_bound, shown_mask, told_answer
@@ -14,15 +14,10 @@ from boundorvoid.values import LETTERS
 FEWEST_CUT = 2
 
 
-def _need_hands(pact, lot):
-    for hand in lot:
-        hand_number(pact, hand)
-
-
 def torn_in(pact, family, lot):
     """The first row of hands of a lot that the family asks and that fails from one of them, with the least such one."""
     need_family(pact, family)
-    _need_hands(pact, lot)
+    need_hands(pact, lot)
     if _is_kept(pact, family, lot):
         return None
     for row in asked_rows(lot, family, ()):
@@ -33,8 +28,6 @@ def torn_in(pact, family, lot):
 
 def _is_kept(pact, family, lot):
     """Whether no row of hands of a lot that the family asks fails from one of them."""
-    if not lot:
-        return True
     starts = [pact.note_numbers[pact.ready[pact.hand_numbers[hand]]] for hand in lot]
     parts = [part for part in parts_of(lot) if in_family(family, part)]
     return are_in_paper(pact, highest_levels(pact, starts, table_places(lot, parts)))
@@ -42,7 +35,7 @@ def _is_kept(pact, family, lot):
 
 def keeping_answer(pact, lot, history, hand, moment):
     """What a rule answers that keeps a lot, where one does."""
-    _need_hands(pact, lot)
+    need_hands(pact, lot)
     need_ask(pact, history, hand, moment)
     told = told_answer(history, hand)
     if told is not None:
@@ -59,7 +52,7 @@ def keeping_answer(pact, lot, history, hand, moment):
 
 def cut_pact(pact, lot):
     """The pact of the hands of a lot alone."""
-    _need_hands(pact, lot)
+    need_hands(pact, lot)
     if len(lot) < FEWEST_CUT:
         raise InvalidSize("lot")
     mask = 0
@@ -117,7 +110,7 @@ def spared_lots(pact, family):
 
 def kept_family(pact, lot):
     """The greatest family for which a lot is kept; None if it is for none."""
-    _need_hands(pact, lot)
+    need_hands(pact, lot)
     others = [hand for hand in pact.hands if hand not in lot]
     free = [part for part in parts_of(lot) if _is_kept(pact, (part,), lot)]
     if not free:

@@ -73,10 +73,9 @@ def _over(pact, note):
 
 def one_waits(pact, family):
     """All pairs of notes, neither under the other, such that the pact is just if the first one waits for the second."""
-    need_family(pact, family)
+    found = court(pact, family)
     apart = [(note, wait) for note in sorted(pact.names) for wait in sorted(pact.names)
              if not lies_under(pact, note, wait) and not lies_under(pact, wait, note)]
-    found = court(pact, family)
     if isinstance(found, Just):
         # More waits never hurt.
         return tuple(apart)

@@ -122,8 +122,8 @@ def _note_can_go(pact, draft, judged, number):
     """Whether the pact is just without a note."""
     if pact.names[number] in pact.ready:
         return False
-    less = without_note(draft, number)
-    return _have_paper(less) and is_draft_just(less, judged)
+    # If its hand has no other note of the paper, the pact is not just.
+    return is_draft_just(without_note(draft, number), judged)
 
 
 def _wait_that_can_go(pact, draft, judged, number, kept):

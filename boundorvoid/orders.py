@@ -61,9 +61,7 @@ def _can_go_on(search, mask, wanted):
     """Whether what is wanted may come before the last note of the paper is sent."""
     if not search.paper & ~mask:
         return wanted == 0
-    if search.ready & ~mask:
-        return True
-    # After the last note of the paper nothing counts, so all that is left may count at best.
+    # At best all notes that are left count.
     left = {}
     for at in mask_numbers(all_mask(search.pact) & ~mask):
         hand = search.pact.notes[at][1]

@@ -78,6 +78,12 @@ def note_number(pact, note):
     return pact.note_numbers[note]
 
 
+def need_hands(pact, lot):
+    """Refuse a lot of names one of which is no hand's."""
+    for name in lot:
+        hand_number(pact, name)
+
+
 def lot_mask(pact, lot):
     """The bits of a lot of notes."""
     mask = 0

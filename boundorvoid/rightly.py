@@ -73,8 +73,6 @@ def _limit_of(pact, family, hand):
     """The greatest level, at most the key note's, from which no row fails that may be asked behind the hand."""
     number = pact.hand_numbers[hand]
     level = key_level(pact, number)
-    if not in_family(family, (hand,)):
-        return level
     others = without(hand_lot(pact), hand)
     places = table_places(others, [lot for lot in parts_of(others) if in_family(family, lot + (hand,))])
     while level >= 0 and not are_in_paper(pact, highest_levels(pact, [pact.rows[number][level]], places)):

@@ -119,10 +119,10 @@ def _put_tight(wants, hands, turns, states, found):
         found.append(turns)
         return
     for hand in hands:
-        behind = [wanted_behind(wants, state, hand) for state in states]
-        # Without the new turn all is as it was ahead of it.
-        if behind[0] not in behind[1:] and behind[0] != states[0]:
-            _put_tight(wants, hands, turns + (hand,), [*behind, states[0]], found)
+        # Without the new turn the same is wanted as ahead of it.
+        behind = [*[wanted_behind(wants, state, hand) for state in states], states[0]]
+        if behind[0] not in behind[1:]:
+            _put_tight(wants, hands, turns + (hand,), behind, found)
 
 
 def tight_turns(hands, family):

@@ -10,6 +10,7 @@ from boundorvoid.heights import top_of
 from boundorvoid.moments import all_moments, need_moment
 from boundorvoid.pacts import lies_under, notes_of, ready_note, under_of
 from boundorvoid.rules import plain_answer
+from boundorvoid.texts import read_pact
 
 from tests.helpers import base_pact, chain_pact, close_pacts, loose_pact, naive_moments, raised, random_asks
 from tests.helpers import rising_asks, small_pacts
@@ -196,6 +197,11 @@ class EntriesTest(unittest.TestCase):
         self.assertEqual(len(all_moments(loose_pact((4, 4, 3)))), 100)
         self.assertGreater(len(book_entries(loose_pact((9, 9)))), 10)
         self.assertGreater(len(book_entries(loose_pact((4, 4, 3)))), 100)
+        rows = ["hands d x a", "note n a", "note bz d", "note ba d", "note o x", "note z x o", "note a x", "note mk x",
+                "note ma a ba", "note aa a o", "note mz a", "note ax x ma", "note ak d", "note mx d", "note az x mx"]
+        pact = read_pact("\n".join(rows + ["ready bz z n", "paper ak ax ba mk mz n o"]))
+        self.assertEqual(len(all_moments(pact)), 101)
+        self.assertEqual(raised(InvalidSize, book_entries, pact), "moments")
         chain = chain_pact(tuple("abc"), 40)
         self.assertEqual(top_of(chain, "a"), 14)
         self.assertGreater(len(book_entries(chain)), 20)

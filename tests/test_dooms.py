@@ -204,6 +204,24 @@ class WrongRunsTest(unittest.TestCase):
         first = ((), "a", ("m",))
         self.assertEqual(calls, [first, ((("a", ("m",), "void"),), "b", ()), first])
 
+    def test_what_sounds_alike(self):
+        pact = Pact(("a", "b"), torn_pact().notes, ("m", "n"), ("n", "o"))
+        one, other = least_trap(pact, ONE_LIES)
+        # The same asks at other places sound alike.
+        moved = (("send", "m"), ("send", "n"), ("ask", "a", ("m",)), ("ask", "b", ("m", "n")), ("send", "o"))
+        self.assertEqual(run_heard(pact, moved), run_heard(pact, other))
+        self.assertEqual(fewest_wrong(pact, (one, moved)), 1)
+        self.assertEqual(fewest_wrong(pact, (moved, one, moved, one, other)), 2)
+        # The same moment shown by another hand does not.
+        notes = (("m", "a", ()), ("n", "b", ()), ("o", "c", ()), ("x", "a", ()))
+        pact = Pact(("a", "b", "c"), notes, ("x", "n", "o"), ("m", "n", "o"))
+        sent = tuple(("send", note) for note in "mno")
+        honest = sent + (("send", "x"), ("ask", "c", ("m", "n", "o")))
+        liar = sent + (("ask", "b", ("m", "n", "o")), ("ask", "b", ()))
+        self.assertEqual(good_answers(pact, honest), (("bound",),))
+        self.assertEqual(good_answers(pact, liar), (("void",),))
+        self.assertEqual(fewest_wrong(pact, (honest, liar)), 0)
+
     def test_the_fewest_over_all_rules(self):
         rng, found = random.Random(216), []
         for pact in small_pacts(216, 120, notes=(3, 6)) + close_pacts(216, 60, notes=(4, 6)):
@@ -351,6 +369,7 @@ class DepthTest(unittest.TestCase):
             families = all_families(pact.hands) if len(pact.hands) < 4 else [
                 sized_family(tuple(sorted(pact.hands)), many) for many in range(len(pact.hands) + 1)]
             families += [((hand,),) for hand in pact.hands] + [(tuple(sorted(pact.hands)[1:]),)]
+            families.append((tuple(sorted(pact.hands)[:1]), tuple(sorted(pact.hands)[1:])))
             for family in families:
                 if isinstance(court(pact, family), Just):
                     kinds.append(least_depth(pact, family))
@@ -377,7 +396,10 @@ class DepthTest(unittest.TestCase):
         self.assertEqual(least_depth(pact, (("a",), ("c",))), 3)
         self.assertEqual(least_depth(pact, ((),)), 2)
         self.assertEqual(least_depth(pact=pact, family=(("a", "b", "c"),)), 3)
+        self.assertEqual(least_depth(chain_pact(tuple("cba"), 30), (("a",),)), 2)
+        self.assertEqual(least_depth(chain_pact(tuple("cba"), 30), (("a",), ("b",))), 3)
         pact = chain_pact(tuple("abcdef"), 40)
+        self.assertEqual(least_depth(pact, (("a", "b"), ("c",))), 4)
         self.assertEqual([least_depth(pact, sized_family(tuple("abcdef"), many)) for many in range(6)],
                          [2, 3, 4, 5, 6, 6])
 

@@ -9,6 +9,7 @@ from boundorvoid.families import all_lots, sized_family
 from boundorvoid.forms import bare_waits
 from boundorvoid.needless import bone_pact, dropped_pact, loosened_pact, thin_notes, tight_fault, tight_pact
 from boundorvoid.pacts import Pact, hand_of, key_note, lies_under, notes_of, ready_note, whole_paper
+from boundorvoid.texts import read_pact
 
 from tests.helpers import all_families, base_pact, chain_pact, close_pacts, raised, small_pacts, subsets
 
@@ -177,6 +178,13 @@ class ThinTest(unittest.TestCase):
             # The last ready note is the one to which its hand climbs.
             self.assertEqual(len(thin_notes(pact, sized_family(hands, 1))), 3 * size - 1)
 
+    def test_a_first_note_that_is_not_thin(self):
+        chain = chain_pact(("a", "b"), 8)
+        pact = Pact(chain.hands, chain.notes, ("ac", "ad"), chain.paper)
+        for family in (((),), (("a",),), (("b",),)):
+            self.assertNotIn("aa", thin_notes(pact, family))
+            self.assertEqual(bone_pact(pact, family), self.naive_bone(pact, family))
+
     def test_a_family_of_all_hands(self):
         pact = chain_pact(("a", "b"), 6)
         self.assertEqual(thin_notes(pact=pact, family=(("a", "b"),)), thin_notes(pact, ONE_LIES))
@@ -254,6 +262,16 @@ class TightTest(unittest.TestCase):
         found = tight_pact(pact, ((),))
         self.assertIsNone(naive_fault(found, ((),)))
         self.assertTrue(all(ready_note(found, hand) in found.names for hand in "ab"))
+
+    def test_waits_go_by_told_order(self):
+        rows = ["hands y d c", "note at y", "note aa d at", "note az c aa", "note ay y az", "note ak d ay",
+                "note bg c ak", "note aj y bg", "note ax d aj", "ready at aa az", "paper aj at ax bg"]
+        pact, family = read_pact("\n".join(rows)), (("c", "y"), ("d",))
+        expected, fault = pact, naive_fault(pact, family)
+        while fault is not None:
+            expected = dropped_pact(expected, fault) if len(fault) == 1 else loosened_pact(expected, *fault)
+            fault = naive_fault(expected, family)
+        self.assertEqual(tight_pact(pact, family), expected)
 
     def test_six_hands_and_forty_notes(self):
         hands = tuple("abcdef")
