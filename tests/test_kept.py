@@ -15,7 +15,7 @@ from boundorvoid.kept import least_unkept, share_pact, spared_lots, torn_in
 from boundorvoid.pacts import Pact, lies_under, notes_of, ready_note, whole_paper
 from boundorvoid.rules import plain_answer
 from boundorvoid.runs import run_heard, run_liars
-from boundorvoid.wrongs import replay, run_wrongs
+from boundorvoid.wrongs import Facts, replay, run_wrongs, wrongs_by
 
 from tests.helpers import Game, all_families, all_rows, all_runs, base_pact, chain_pact, close_pacts, naive_moments
 from tests.helpers import note_names, raised, random_history, random_run, small_pacts, subsets
@@ -71,10 +71,13 @@ class TornInTest(unittest.TestCase):
     def test_kept_exactly_if_some_rule_wrongs_none_of_it(self):
         found = []
         pacts = small_pacts(271, 12, hands=(2, 2), notes=(3, 4), density=(0.5, 0.8))
-        for pact in pacts + [base_pact("n")]:
+        notes = (("m", "b", ()), ("n", "a", ("m",)), ("o", "c", ("n",)))
+        pacts += [base_pact("n"), Pact(("a", "b", "c"), notes, ("n", "m", "o"), ("o",)), chain_pact(tuple("cab"), 4)]
+        for pact in pacts:
+            told = wronged_in(pact)
             for lot in subsets(sorted(pact.hands)):
-                games = games_for(pact, lot)
-                for family in all_families(pact.hands):
+                games = games_for(told, lot)
+                for family in all_families(pact.hands)[::1 if len(pact.hands) < 3 else 3]:
                     kept = torn_in(pact, family, lot) is None
                     self.assertEqual(kept, Game(games, family).is_safe((), ()))
                     found.append(kept)
@@ -97,15 +100,21 @@ class TornInTest(unittest.TestCase):
         self.assertGreater(many, 50)
 
 
-def games_for(pact, lot):
-    """All runs with their liars, heards and the answers that wrong somebody of a lot."""
+def wronged_in(pact):
+    """All runs with their liars and heards, and for each row of answers the hands that it wrongs."""
     found = []
     for run in all_runs(pact):
+        facts = Facts(pact, run)
         heard = run_heard(pact, run)
-        rows = [row for row in itertools.product(("bound", "void"), repeat=len(heard))
-                if any(wrong[0] in lot for wrong in run_wrongs(pact, run, row))]
+        rows = {row: {wrong[0] for wrong in wrongs_by(facts, row)}
+                for row in itertools.product(("bound", "void"), repeat=len(heard))}
         found.append((run_liars(pact, run), heard, rows))
     return found
+
+
+def games_for(told, lot):
+    """The same runs, with the answers that wrong somebody of a lot."""
+    return [(liars, heard, [row for row in rows if rows[row] & set(lot)]) for liars, heard, rows in told]
 
 
 class KeepingRuleTest(unittest.TestCase):

@@ -193,6 +193,20 @@ class ProspectTest(unittest.TestCase):
                             losts += self.check_heard(pact, family, game, tuple(zip(hands, shown)))
         self.assertGreater(min(losts.count(True), losts.count(False)), 300)
 
+    def test_three_hands(self):
+        losts = []
+        chain = chain_pact(tuple("cab"), 4)
+        notes = (("m", "b", ()), ("n", "a", ("m",)), ("o", "c", ("n",)), ("p", "b", ("n",)))
+        for pact in (chain, Pact(("a", "b", "c"), notes, ("n", "m", "o"), ("o", "p"))):
+            known, moments = games(pact), naive_moments(pact)
+            for family in all_families("abc")[::4]:
+                game = Game(known, family)
+                for hands in itertools.chain(*(itertools.permutations("abc", many) for many in range(4))):
+                    for shown in itertools.product(moments, repeat=len(hands)):
+                        if game.is_possible(tuple(zip(hands, shown))):
+                            losts += self.check_heard(pact, family, game, tuple(zip(hands, shown)))
+        self.assertGreater(min(losts.count(True), losts.count(False)), 1000)
+
     def check_heard(self, pact, family, game, heard):
         if not game.is_possible(heard):
             history = tuple((*ask, "void") for ask in heard)
