@@ -5,7 +5,7 @@ Asks are kept here as triples of the number of the hand, the bits of what it sho
 
 from boundorvoid.errors import InvalidSize, Refused
 from boundorvoid.heights import closure_of
-from boundorvoid.lots import lies_within, with_name
+from boundorvoid.lots import lies_within, with_name, without
 from boundorvoid.moments import all_moments
 from boundorvoid.pacts import lot_mask, mask_lot, notes_of
 from boundorvoid.parts import bits_of, joined_mask
@@ -108,11 +108,10 @@ def _asks_between(pact, fresh, entry, twin):
     yours = closure_of(pact, twin[1])
     if mine != yours:
         return ((fresh[0], yours if lies_within(yours, mine) else mine),)
-    at = [at for at, level in enumerate(entry[2]) if level != twin[2][at]][0]
+    hand, least = [(hand, min(one, other)) for hand, one, other in zip(fresh, entry[2], twin[2]) if one != other][0]
     # The hand shows all that is known of it behind one entry, but less than behind the other one: there it lies.
-    shown = notes_of(pact, fresh[at])[:min(entry[2][at], twin[2][at])]
-    other = [hand for hand in fresh if hand != fresh[at]][0]
-    return (fresh[at], closure_of(pact, shown)), (other, mine)
+    shown = closure_of(pact, notes_of(pact, hand)[:least])
+    return (hand, shown), (without(fresh, hand)[0], mine)
 
 
 def book_entries(pact):

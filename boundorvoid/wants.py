@@ -8,10 +8,7 @@ class Wants:
     """All rests of some wishes, numbered. What is wanted is a mask of rests none of which is a part of another one."""
 
     def __init__(self, hands, wishes):
-        numbers = {}
-        for wish in wishes:
-            for at in range(len(wish)):
-                numbers.setdefault(wish[at:], len(numbers))
+        numbers = _numbered_rests(wishes)
         rests = list(numbers)
         self.rests = rests
         self.first = sum([1 << numbers[wish] for wish in wishes])
@@ -19,6 +16,15 @@ class Wants:
         self.tails = [1 << numbers[rest[1:]] if len(rest) > 1 else 0 for rest in rests]
         self.inner = [sum([1 << at for at, other in enumerate(rests) if len(other) < len(rest) and is_part(
             other, rest)]) for rest in rests]
+
+
+def _numbered_rests(wishes):
+    """The numbers of all that may be left of some wishes."""
+    numbers = {}
+    for wish in wishes:
+        for at in range(len(wish)):
+            numbers.setdefault(wish[at:], len(numbers))
+    return numbers
 
 
 def wanted_behind(wants, mask, hand):
