@@ -31,7 +31,7 @@ def book_entry(pact, heard):
 def _with_ask(pact, told, number, mask):
     """What is told with one more ask, which the plain rule answers."""
     # Once somebody is told bound, nothing is awaited any more.
-    awaited = _awaited_numbers(pact, told, _seen_mask(told) | mask)
+    awaited = awaited_numbers(pact, told, _seen_mask(told) | mask)
     return [*told, (number, mask, BOUND if awaited == [] else VOID)]
 
 
@@ -46,7 +46,7 @@ def _seen_mask(told):
     return seen
 
 
-def _awaited_numbers(pact, told, seen):
+def awaited_numbers(pact, told, seen):
     """The notes that must be seen for a bound; None if an unshown hand has none left."""
     numbers = [at for at in ready_numbers(pact) if not seen >> at & 1]
     for number, mask, answer in told:
@@ -66,7 +66,7 @@ def _entry_of(pact, told):
     if _is_bound(told):
         return (BOUND,)
     seen = _seen_mask(told)
-    numbers = _awaited_numbers(pact, told, seen)
+    numbers = awaited_numbers(pact, told, seen)
     if numbers is None:
         return (NEVER,)
     under = joined_mask(pact.unders, numbers)

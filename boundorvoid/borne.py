@@ -13,7 +13,7 @@ def failing_rows(pact):
     hands = hand_lot(pact)
     rows = asked_rows(hands, (hands,), ())
     found = []
-    fails = {hand: _failing_from(pact, hand, rows) for hand in hands}
+    fails = {hand: failing_from(pact, hand, rows) for hand in hands}
     for row in rows:
         for hand in hands:
             failing = fails[hand]
@@ -22,7 +22,7 @@ def failing_rows(pact):
     return tuple(found)
 
 
-def _failing_from(pact, hand, rows):
+def failing_from(pact, hand, rows):
     """Those of all rows that fail from a hand; each row stands behind its first parts."""
     ends = {(): pact.note_numbers[pact.ready[pact.hand_numbers[hand]]]}
     failing = {}

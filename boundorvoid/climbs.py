@@ -2,7 +2,8 @@
 
 from boundorvoid.errors import InvalidRow
 from boundorvoid.heights import last_note, next_note
-from boundorvoid.pacts import hand_of, has_hand, has_note, key_note, lies_under, note_number, ready_note, under_of
+from boundorvoid.pacts import above_mask, all_mask, hand_of, has_hand, has_note, key_note, lies_under, mask_lot
+from boundorvoid.pacts import note_number, ready_note, under_of
 
 
 def need_row(pact, value):
@@ -95,9 +96,9 @@ def row_starts(pact, row):
 def row_moments(pact, hand, row):
     """What may be sent when each hand of the row comes, though the one ahead has not gone on."""
     notes = (ready_note(pact, hand), *climb(pact, hand, row))
-    return tuple([_not_above(pact, note) for note in notes[:len(row)]])
+    return tuple([not_above(pact, note) for note in notes[:len(row)]])
 
 
-def _not_above(pact, note):
+def not_above(pact, note):
     """The lot of all notes under which a note does not lie."""
-    return tuple([name for name in sorted(pact.names) if not lies_under(pact, note, name)])
+    return mask_lot(pact, all_mask(pact) & ~above_mask(pact, note_number(pact, note)))

@@ -13,11 +13,16 @@ def need_family(pact, value):
 
 
 def family_fault(pact, value):
-    """The first wrong place of any value that should be a family, -1 for none at all; None for a family."""
+    """The first wrong place of any value that should be a family of the pact's hands; None for a family."""
+    return lots_fault(pact.hands, value)
+
+
+def lots_fault(names, value):
+    """The first wrong place of any value that should be a family of some names, -1 for none at all; None for one."""
     if not isinstance(value, tuple) or not value:
         return -1
     for at, thing in enumerate(value):
-        if not is_lot_of(thing, pact.hands) or at > 0 and not value[at - 1] < thing:
+        if not is_lot_of(thing, names) or at > 0 and not value[at - 1] < thing:
             return at
     return first_inner(value)
 

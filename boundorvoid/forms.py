@@ -1,8 +1,8 @@
 """The ways to tell a pact: bare and full forms, other orders, and notes from clocks."""
 
-from boundorvoid.errors import InvalidRow
 from boundorvoid.heights import clock_fault
-from boundorvoid.pacts import Pact, has_note, hand_number, mask_lot, note_number, under_of, whole_paper
+from boundorvoid.moments import need_order
+from boundorvoid.pacts import Pact, all_mask, hand_number, mask_lot, note_number, under_of, whole_paper
 from boundorvoid.webs import bare_mask, bare_notes, least_numbers, mask_numbers, top_mask
 
 
@@ -69,18 +69,7 @@ def _lots_between(least, greatest):
 
 def retold_pact(pact, order):
     """The pact with its notes told in another order, with the same waits."""
-    if not isinstance(order, tuple):
-        raise InvalidRow(-1)
-    told = 0
-    for at, name in enumerate(order):
-        if not has_note(pact, name):
-            raise InvalidRow(at)
-        number = pact.note_numbers[name]
-        if pact.unders[number] & ~told != 1 << number:
-            raise InvalidRow(at)
-        told = told | 1 << number
-    if len(order) < len(pact.names):
-        raise InvalidRow(len(order))
+    need_order(pact, order, all_mask(pact))
     notes = [pact.notes[pact.note_numbers[name]] for name in order]
     return Pact(pact.hands, notes, pact.ready, pact.paper)
 

@@ -1,6 +1,6 @@
 """Moments: what may be all that is sent; and the orders in which it may be."""
 
-from boundorvoid.errors import InvalidMoment, InvalidSize
+from boundorvoid.errors import InvalidMoment, InvalidRow, InvalidSize
 from boundorvoid.pacts import all_mask, has_note, lot_mask, mask_lot
 from boundorvoid.values import is_integer
 from boundorvoid.webs import sendable, top_mask
@@ -30,6 +30,22 @@ def need_moment(pact, value):
     if fault is not None:
         raise InvalidMoment(fault)
     return value
+
+
+def need_order(pact, value, whole):
+    """Refuse any value that is no order of all notes of a mask, each behind what lies under it."""
+    if not isinstance(value, tuple):
+        raise InvalidRow(-1)
+    told = 0
+    for at, thing in enumerate(value):
+        if not has_note(pact, thing):
+            raise InvalidRow(at)
+        number = pact.note_numbers[thing]
+        if not whole >> number & 1 or pact.unders[number] & ~told != 1 << number:
+            raise InvalidRow(at)
+        told = told | 1 << number
+    if told != whole:
+        raise InvalidRow(len(value))
 
 
 def moment_mask(pact, moment):

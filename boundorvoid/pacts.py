@@ -2,7 +2,7 @@
 
 from boundorvoid.errors import InvalidPact, NoName
 from boundorvoid.parts import FEWEST_NOTES, MOST_NOTES, are_hands, are_ready, is_note, is_paper
-from boundorvoid.parts import joined_mask, next_table, rows_by_hand, under_masks
+from boundorvoid.parts import bits_of, joined_mask, next_table, rows_by_hand, under_masks
 from boundorvoid.values import is_known, is_sequence
 
 
@@ -95,6 +95,14 @@ def lot_mask(pact, lot):
 def all_mask(pact):
     """The bits of all notes."""
     return (1 << len(pact.names)) - 1
+
+
+def above_mask(pact, number):
+    """The bits of the notes under which the note with a number lies."""
+    mask = 0
+    for row, level in zip(pact.rows, pact.nexts[number]):
+        mask = mask | bits_of(row[level:])
+    return mask
 
 
 def mask_lot(pact, mask):

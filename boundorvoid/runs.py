@@ -8,6 +8,8 @@ SEND = "send"
 ASK = "ask"
 BOUND = "bound"
 VOID = "void"
+HEARD_PARTS = 2
+HISTORY_PARTS = 3
 
 
 def is_answer(value):
@@ -29,7 +31,7 @@ def run_fault(pact, value):
         return -1
     sent = 0
     for at, event in enumerate(value):
-        if not _is_send(pact, event, sent) and not _is_ask(pact, event, sent):
+        if not _is_send(pact, event, sent) and not is_ask(pact, event, sent):
             return at
         if event[0] == SEND:
             sent = sent | 1 << pact.note_numbers[event[1]]
@@ -44,7 +46,7 @@ def _is_send(pact, event, sent):
     return pact.unders[number] & ~sent == 1 << number
 
 
-def _is_ask(pact, event, sent):
+def is_ask(pact, event, sent):
     """Whether any value is an ask that shows nothing but what is sent."""
     if not isinstance(event, tuple) or len(event) != 3 or event[0] != ASK or not has_hand(pact, event[1]):
         return False
@@ -91,32 +93,39 @@ def run_liars(pact, run):
 
 def need_heard(pact, value):
     """A value that is a heard, as it is."""
-    _need_asks(pact, value, 2)
+    _need_asks(pact, value, HEARD_PARTS)
     return value
 
 
 def need_history(pact, value):
     """A value that is a history, as it is."""
-    _need_asks(pact, value, 3)
+    _need_asks(pact, value, HISTORY_PARTS)
     return value
 
 
 def _need_asks(pact, value, many):
-    """Refuse what is no tuple of asks of unlike hands, of so many things each."""
+    fault = asks_fault(pact, value, many)
+    if fault is not None:
+        raise InvalidAsk(fault)
+
+
+def asks_fault(pact, value, many):
+    """The first wrong place of any value that should be asks of unlike hands, of so many things each; None for such."""
     if not isinstance(value, tuple):
-        raise InvalidAsk(-1)
+        return -1
     asked = {}
     for at, thing in enumerate(value):
-        if not _is_told(pact, thing, many) or thing[0] in asked:
-            raise InvalidAsk(at)
+        if not is_told(pact, thing, many) or thing[0] in asked:
+            return at
         asked[thing[0]] = True
+    return None
 
 
-def _is_told(pact, thing, many):
+def is_told(pact, thing, many):
     """Whether any value is a tuple of a hand and a moment, and, as third of three things, an answer."""
     if not isinstance(thing, tuple) or len(thing) != many or not has_hand(pact, thing[0]):
         return False
-    if many == 3 and not is_answer(thing[2]):
+    if many == HISTORY_PARTS and not is_answer(thing[2]):
         return False
     return moment_fault(pact, thing[1]) is None
 

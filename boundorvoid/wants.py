@@ -29,7 +29,19 @@ def _numbered_rests(wishes):
 
 def wanted_behind(wants, mask, hand):
     """What of a mask is still wanted behind the turn of a hand."""
-    begun = mask & wants.heads[hand]
+    return _left_of(wants, mask, mask & wants.heads[hand])
+
+
+def wanted_with(wants, mask, lot):
+    """What of a mask is still wanted if the hands of a lot write at the same time."""
+    begun = 0
+    for hand in lot:
+        begun = begun | mask & wants.heads[hand]
+    return _left_of(wants, mask, begun)
+
+
+def _left_of(wants, mask, begun):
+    """What of a mask is still wanted if those rests of it that are begun go on by one hand."""
     if not begun:
         return mask
     left = mask & ~begun

@@ -33,11 +33,11 @@ def replay(pact, run, rule):
 def told_history(history, asks, rule):
     """A history with more asks, told what a rule answers to each of them."""
     for hand, moment in asks:
-        history = history + ((hand, moment, _answer_by(rule, history, hand, moment)),)
+        history = history + ((hand, moment, answer_by(rule, history, hand, moment)),)
     return history
 
 
-def _answer_by(rule, history, hand, moment):
+def answer_by(rule, history, hand, moment):
     """What a rule returns, which must be an answer."""
     answer = rule(history, hand, moment)
     if not is_answer(answer):
@@ -48,7 +48,7 @@ def _answer_by(rule, history, hand, moment):
 def ask_bound_by(history, asks, rule):
     """The number of the first of some asks behind a history that a rule tells bound, or None."""
     for at, (hand, moment) in enumerate(asks):
-        answer = _answer_by(rule, history, hand, moment)
+        answer = answer_by(rule, history, hand, moment)
         if answer == BOUND:
             return at
         history = history + ((hand, moment, answer),)

@@ -273,3 +273,14 @@ class Game:
                 any(self.is_safe(longer, answers + (answer,)) for answer in ("bound", "void"))
                 for longer in self.longer.get(heard, []))
         return self.known[key]
+
+
+def random_log(rng, pact, most=6, again=0.4):
+    """A log: asks of any hands, some of which come again, with the same answer as before or with another one."""
+    history = random_history(rng, pact)
+    log, moments = list(history), naive_moments(pact)
+    while log and len(log) < most and rng.random() < again:
+        hand, _, answer = rng.choice(log)
+        answer = answer if rng.random() < 0.7 else rng.choice(("bound", "void"))
+        log.insert(rng.randint(0, len(log)), (hand, rng.choice(moments), answer))
+    return tuple(log)

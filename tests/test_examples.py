@@ -122,6 +122,41 @@ MENDS = """
     (('a', 'b', 'a'), (('n', 'm'),), None)
 """
 
+BEATS = """
+    >>> from boundorvoid.rounds import beats_front
+    >>> beats_front(("a", "b", "c"), (("a", "b", "c"),))
+    ((4, 12), (5, 11), (6, 9))
+"""
+
+OFFICES = """
+    >>> from boundorvoid.offices import deaf_pair, sized_offices
+    >>> deaf_pair(sized_offices(("x", "y", "z"), ("a", "b"), 2, 1))
+    ('a', ('x', 'y'), 'b', ('x', 'z'), ('x',))
+"""
+
+POWER = """
+    >>> from boundorvoid.power import choice_stretch, choosing_lots, turning_note, voiding_way
+    >>> from boundorvoid.texts import read_pact
+    >>> rows = ["hands a b", "note m a", "note n b m", "note o a n", "note p b o"]
+    >>> pact = read_pact("\\n".join(rows + ["ready m n", "paper p"]))
+    >>> family = (("a",), ("b",))
+    >>> turning_note(pact, ("a",), "a"), choosing_lots(pact, family, ("m",))
+    ('o', (('b',),))
+    >>> choice_stretch(pact, family, ("m", "n", "o", "p")), voiding_way(pact, ("b",), ("m",))
+    ((1, 3), (('ask', 'b', ()),))
+"""
+
+AUDITS = """
+    >>> from boundorvoid.audits import blame, blaming_lots, excusing_family, found_bounds, log_liars
+    >>> from boundorvoid.texts import read_pact
+    >>> rows = ["hands a b", "note m a", "note n b m", "note o a n", "note p b o", "ready m n", "paper p"]
+    >>> pact, log = read_pact("\\n".join(rows)), (("a", ("m",), "void"), ("b", ("m", "n", "o", "p"), "void"))
+    >>> log_liars(pact, log, ()), found_bounds(pact, (("b",),), log[:1])
+    (('a',), (('m', 'n'),))
+    >>> blaming_lots(pact, log), excusing_family(pact, log), blame(pact, (("a",),), log, ())
+    ((('a',),), (('b',),), ('notary', 1))
+"""
+
 
 class ExamplesTest(unittest.TestCase):
     def check(self, name, text):
@@ -157,6 +192,18 @@ class ExamplesTest(unittest.TestCase):
 
     def test_mends(self):
         self.check("mends", MENDS)
+
+    def test_beats(self):
+        self.check("beats", BEATS)
+
+    def test_offices(self):
+        self.check("offices", OFFICES)
+
+    def test_power(self):
+        self.check("power", POWER)
+
+    def test_audits(self):
+        self.check("audits", AUDITS)
 
     def test_readme(self):
         readme = pathlib.Path(__file__).resolve().parent.parent / "README.md"

@@ -74,12 +74,31 @@ INTERFACE = {
     "mends": {"wider_pact": "pact waits", "row_rectangles": "pact hand row", "one_waits": "pact family",
               "row_waits": "pact hand row", "just_order": "pact family", "behind_pact": "pact row",
               "turns_behind": "pact family"},
+    "rounds": {"beats_pact": "hands beats", "beats_just": "hands family beats", "fewest_beats": "hands family many",
+               "beats_front": "hands family", "early_beats": "pact"},
+    "offices": {"Offices": "names tells counters forgets", "ask_known": "offices lot other gone",
+                "deaf_pair": "offices", "offices_court": "pact family offices",
+                "sized_offices": "names hands many lost", "alternate_climb": "pact hand one other",
+                "alternate_moments": "pact hand one other"},
+    "unions": {"need_groups": "pact value", "group_moments": "pact groups hand row",
+               "members_row": "pact groups hand row", "group_court": "pact groups liars",
+               "merged_pact": "pact groups", "pacts_behind": "one other", "sum_family": "hands one other"},
+    "power": {"company_reach": "pact lot moment", "readies_moment": "pact", "turning_note": "pact lot hand",
+              "can_bind": "pact lot moment", "can_void": "pact lot moment", "voiding_way": "pact lot moment",
+              "voids_for_good": "pact moment value", "choosing_lots": "pact family moment",
+              "settled_moment": "pact family", "choice_stretch": "pact family order",
+              "first_choice": "pact order rule", "least_stretch": "pact family", "greatest_stretch": "pact family"},
+    "logs": {"need_log": "pact value", "first_history": "pact log", "log_slip": "pact log", "log_text": "pact log",
+             "read_log": "pact text"},
+    "audits": {"log_liars": "pact log found", "log_run": "pact log found", "found_bounds": "pact family log",
+               "blaming_lots": "pact log", "excusing_family": "pact log", "blame": "pact family log found"},
 }
 KINDS = {inspect.Parameter.POSITIONAL_OR_KEYWORD: "", inspect.Parameter.KEYWORD_ONLY: "*"}
 ERRORS = {"InvalidPact": "at", "InvalidText": "at", "InvalidFamily": "at", "InvalidMoment": "at", "InvalidRun": "at",
           "InvalidAsk": "at", "InvalidRow": "at", "InvalidOffices": "at", "InvalidSize": "word", "Refused": "word",
           "NoName": "name"}
-EQUAL = {"pacts": ["Pact"], "court": ["Just", "Torn"], "prospects": ["Safe", "Lost"]}
+EQUAL = {"pacts": ["Pact"], "court": ["Just", "Torn"], "prospects": ["Safe", "Lost"],
+         "offices": ["Offices"]}
 
 
 class InterfaceTest(unittest.TestCase):

@@ -6,6 +6,7 @@ import unittest
 
 from boundorvoid.borne import borne_paper
 from boundorvoid.court import Just, Torn, court
+from boundorvoid.offices import Offices
 from boundorvoid.pacts import Pact
 from boundorvoid.prospects import Lost, Safe
 from boundorvoid.texts import pact_text
@@ -29,6 +30,18 @@ TABLE = (((1, 0), (2, 1)), ((1, 1), (2, 2)))
 
 def rule(history, hand, moment):
     return "bound" if history else "void"
+
+
+def late_rule(history, hand, moment):
+    return "bound" if len(moment) > 2 else "void"
+
+
+BEATS = (("a", "b"), ("b",), ("a", "b"))
+COUNTERS = (("a", (("x",), ("x", "y"))), ("b", (("x", "y"),)))
+OFFICES = Offices(("x", "y"), (("x", "y"),), COUNTERS, ((),))
+GROUPS = (("a",), ("b",))
+BEHIND = Pact(["a", "b"], [("q", "a", ()), ("r", "b", ("q",))], ["q", "r"], ("r",))
+LOG = HISTORY[:1] + (("b", ("m", "n"), "void"), ("a", ("m",), "bound"))
 
 
 # What each function is called with, but for the pact; lists stand where sequences are expected.
@@ -97,6 +110,22 @@ CALLS = {
     "wider_pact": [[("o", "n"), ("p", "m")]], "row_rectangles": ["b", ("a", "b")], "one_waits": [FAMILY],
     "row_waits": ["b", ("a", "b")], "just_order": [FAMILY], "behind_pact": [["a", "b", "a"]],
     "turns_behind": [FAMILY],
+    "beats_pact": [("a", "b"), BEATS], "beats_just": [("a", "b"), FAMILY, BEATS], "early_beats": [],
+    "fewest_beats": [("a", "b"), FAMILY, 6], "beats_front": [("a", "b"), FAMILY],
+    "Offices": [("x", "y"), (("x", "y"),), COUNTERS, ((),)], "ask_known": [OFFICES, ("x",), ("y",), ()],
+    "deaf_pair": [OFFICES], "offices_court": [FAMILY, OFFICES], "sized_offices": [("x", "y"), ("a", "b"), 2, 1],
+    "alternate_climb": ["a", "a", "b"], "alternate_moments": ["a", "a", "b"],
+    "need_groups": [GROUPS], "group_moments": [GROUPS, "b", ("a", "b")], "members_row": [GROUPS, "b", ("a", "b")],
+    "group_court": [GROUPS, FAMILY], "merged_pact": [GROUPS], "pacts_behind": [PACT, BEHIND],
+    "sum_family": [("a", "b"), FAMILY, ((),)],
+    "company_reach": [("a",), ("m", "n")], "readies_moment": [], "turning_note": [("a",), "a"],
+    "can_bind": [("b",), ("m",)], "can_void": [("b",), ("m",)], "voiding_way": [("b",), ("m",)],
+    "voids_for_good": [("m",), (("ask", "b", ()),)], "choosing_lots": [FAMILY, ("m",)], "settled_moment": [FAMILY],
+    "choice_stretch": [FAMILY, ALL], "first_choice": [ALL, late_rule], "least_stretch": [FAMILY],
+    "greatest_stretch": [FAMILY],
+    "need_log": [LOG], "first_history": [LOG], "log_slip": [LOG], "log_text": [LOG], "read_log": ["void a m\nbound b"],
+    "log_liars": [LOG, ("m", "n", "o")], "log_run": [LOG, ("m", "n", "o")], "found_bounds": [FAMILY, LOG],
+    "blaming_lots": [LOG], "excusing_family": [LOG], "blame": [FAMILY, LOG, ()],
 }
 WHERE_SEQUENCES = {"Pact": (0, 1, 2), "clocked_notes": (0, 1), "joined_moment": (0,), "met_moment": (0,),
                    "run_wrongs": (1,), "family_of": (0,), "family_barring": (1,), "wrong_runs": (0,),
@@ -126,9 +155,10 @@ def has_lists(value):
     """Whether some list or set is in what was returned."""
     if isinstance(value, dict):
         return any(map(has_lists, value.values()))
-    if isinstance(value, (Pact, Just, Torn, Safe, Lost)):
+    if isinstance(value, (Pact, Just, Torn, Safe, Lost, Offices)):
         return any(map(has_lists, [getattr(value, name) for name in
-                                   ("hands", "notes", "ready", "paper", "names", "table", "hand", "note", "row")
+                                   ("hands", "notes", "ready", "paper", "names", "table", "hand", "note", "row",
+                                    "tells", "counters", "forgets")
                                    if hasattr(value, name)]))
     if isinstance(value, tuple):
         return any(map(has_lists, value))
@@ -183,7 +213,8 @@ class PromisesTest(unittest.TestCase):
 
     def test_truths_are_bools(self):
         tell = {"lies_under", "same_web", "row_holds", "ladder_holds", "in_family", "check_court", "trap_holds",
-                "check_prospect", "bears_lot", "borne_holds", "wishes_held"}
+                "check_prospect", "bears_lot", "borne_holds", "wishes_held", "beats_just", "ask_known", "can_bind",
+                "can_void", "voids_for_good"}
         for name, call, parameters, told in interface():
             ahead = pact_for(name, parameters)
             self.assertEqual(isinstance(call(*ahead, *told), bool), name in tell, name)
@@ -194,7 +225,7 @@ class PromisesTest(unittest.TestCase):
             if name in {"level_of", "top_of", "next_level", "telling_count", "count_sendings", "sending_number",
                         "highest_level", "ask_rank", "fewest_wrong", "least_depth", "liars_borne",
                         "stretch_count", "turns_count", "turns_place", "fewest_more", "table_price", "turn_reach",
-                        "turn_liars", "rounds_needed"}:
+                        "turn_liars", "rounds_needed", "log_slip"}:
                 self.assertIs(call(*ahead, *told).__class__, int, name)
 
 
