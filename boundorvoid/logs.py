@@ -30,13 +30,8 @@ def history_of(log):
 
 def log_slip(pact, log):
     """The number of the first triple with another answer than the hand's first one, or None."""
-    return slip_of(need_log(pact, log))
-
-
-def slip_of(log):
-    """The same of what must be a log."""
     told = {}
-    for at, (hand, _, answer) in enumerate(log):
+    for at, (hand, _, answer) in enumerate(need_log(pact, log)):
         if told.setdefault(hand, answer) != answer:
             return at
     return None

@@ -86,14 +86,21 @@ def early_beats(pact):
 class BeatsMachine:
     """All that beats may come to, with a step for each lot of hands that may write; the beats are just at the goal."""
 
-    def __init__(self, hands, family):
-        wants = Wants(hands, family_wishes(hands, family))
-        self.lots = sorted([lot for lot in parts_of(hands) if lot])
-        states, self.steps = all_states((0, wants.first), self.lots, lambda state, lot: _state_behind(
-            wants, hands, state, lot))
-        self.goal = states.index(((1 << len(hands)) - 1, 0))
-        # The fewest notes never come to a state twice.
-        self.far = len(hands) * len(states) + 1
+    def __init__(self, lots, steps, goal, far):
+        self.lots = lots
+        self.steps = steps
+        self.goal = goal
+        self.far = far
+
+
+def _machine_of(hands, family):
+    """The machine of the beats of some hands; far are more notes than the fewest that lead to the goal."""
+    wants = Wants(hands, family_wishes(hands, family))
+    lots = sorted([lot for lot in parts_of(hands) if lot])
+    states, steps = all_states((0, wants.first), lots, lambda state, lot: _state_behind(wants, hands, state, lot))
+    goal = states.index(((1 << len(hands)) - 1, 0))
+    # The fewest notes never come to a state twice.
+    return BeatsMachine(lots, steps, goal, len(hands) * len(states) + 1)
 
 
 def _state_behind(wants, hands, state, lot):
@@ -126,7 +133,7 @@ def _longer_counts(machine, counts):
 
 def fewest_beats(hands, family, many):
     """Of the just beats, at most so many, those of the fewest notes, then beats, then the least; None without any."""
-    machine = BeatsMachine(hands, family)
+    machine = _machine_of(hands, family)
     rows = [_first_counts(machine)]
     while len(rows) <= many:
         rows.append(_longer_counts(machine, rows[-1]))
@@ -152,7 +159,7 @@ def _least_beats(machine, rows):
 
 def beats_front(hands, family):
     """The pairs of a number of beats and of notes for which fewer notes do than with fewer beats."""
-    machine = BeatsMachine(hands, family)
+    machine = _machine_of(hands, family)
     counts = _first_counts(machine)
     front = []
     fewest = machine.far

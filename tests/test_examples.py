@@ -1,4 +1,4 @@
-"""The examples of the document, as far as the program goes."""
+"""The examples of the document."""
 
 import doctest
 import pathlib
@@ -147,14 +147,36 @@ POWER = """
 """
 
 AUDITS = """
-    >>> from boundorvoid.audits import blame, blaming_lots, excusing_family, found_bounds, log_liars
     >>> from boundorvoid.texts import read_pact
+    >>> from boundorvoid.audits import blame, blaming_lots, excusing_family, found_bounds, log_liars
+    >>> from boundorvoid.receipts import unlogged_asks, receipt_orders
     >>> rows = ["hands a b", "note m a", "note n b m", "note o a n", "note p b o", "ready m n", "paper p"]
     >>> pact, log = read_pact("\\n".join(rows)), (("a", ("m",), "void"), ("b", ("m", "n", "o", "p"), "void"))
     >>> log_liars(pact, log, ()), found_bounds(pact, (("b",),), log[:1])
     (('a',), (('m', 'n'),))
     >>> blaming_lots(pact, log), excusing_family(pact, log), blame(pact, (("a",),), log, ())
     ((('a',),), (('b',),), ('notary', 1))
+    >>> receipt_orders(pact, log), unlogged_asks(pact, (), "b", ("m", "n"))
+    (0, (0, (('a', ('m',)),)))
+"""
+
+CORES = """
+    >>> from boundorvoid.alike import longest_walk, rows_apart, walk_apart
+    >>> from boundorvoid.cores import core_table, turnings
+    >>> from boundorvoid.texts import read_pact
+    >>> rows = ["hands a b", "note m a", "note n b m", "note o a n", "note p b o", "note q a p", "ready m n"]
+    >>> less, more = read_pact("\\n".join(rows + ["paper p"])), read_pact("\\n".join(rows + ["paper q"]))
+    >>> longest_walk(less, "a"), rows_apart(less, more), walk_apart(less, more)
+    (('a', 'b', 'a', 'b'), None, ('b', ('a', 'b', 'a')))
+    >>> core_table(less), turnings(less)
+    ((('a', 'b'), (0, 0), (((0, 0), (1, 1)), ((1, 0), (2, 1)))), (('a', 'b'),))
+"""
+
+DESK = """
+    >>> from boundorvoid.desk import Desk
+    >>> desk, pact = Desk(), "pact hands a b ; note m a ; note n b m ; note o a n ; note p b o ; ready m n ; paper p"
+    >>> [desk.say(word) for word in (pact, "family a ; b", "ask a m", "bound b m n o", "undo", "log")]
+    ['just', 'just', 'void', 'bound', 'done', 'void a m']
 """
 
 
@@ -204,6 +226,12 @@ class ExamplesTest(unittest.TestCase):
 
     def test_audits(self):
         self.check("audits", AUDITS)
+
+    def test_cores(self):
+        self.check("cores", CORES)
+
+    def test_desk(self):
+        self.check("desk", DESK)
 
     def test_readme(self):
         readme = pathlib.Path(__file__).resolve().parent.parent / "README.md"

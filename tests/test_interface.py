@@ -2,6 +2,8 @@
 
 import importlib
 import inspect
+import pathlib
+import re
 import unittest
 
 INTERFACE = {
@@ -92,7 +94,21 @@ INTERFACE = {
              "read_log": "pact text"},
     "audits": {"log_liars": "pact log found", "log_run": "pact log found", "found_bounds": "pact family log",
                "blaming_lots": "pact log", "excusing_family": "pact log", "blame": "pact family log found"},
+    "receipts": {"receipt_orders": "pact receipts", "nth_receipt_order": "pact receipts number",
+                 "right_orders": "pact family receipts", "unlogged_asks": "pact history hand moment"},
+    "alike": {"walk_note": "pact hand walk", "longest_walk": "pact hand", "walk_apart": "one other",
+              "rows_apart": "one other"},
+    "cores": {"same_future": "pact one other", "core_notes": "pact", "core_table": "pact", "core_fault": "table",
+              "tabled_pact": "table", "one_form": "pact", "turnings": "pact"},
+    "checker": {"sheet_holds": "pact kind question value"},
+    "books": {"Book": "pact"},
+    "office": {"Office": "pact family", "office_after": "pact family log"},
+    "desk": {"Desk": ""},
 }
+METHODS = {("office", "Office"): {"ask": "hand moment", "tell": "hand moment answer", "standing": "", "undo": "",
+                                  "redo": "", "trying": "work", "__len__": ""},
+           ("books", "Book"): {"put": "sheet", "knows": "claim question", "moved": "pact"},
+           ("desk", "Desk"): {"say": "command"}}
 KINDS = {inspect.Parameter.POSITIONAL_OR_KEYWORD: "", inspect.Parameter.KEYWORD_ONLY: "*"}
 ERRORS = {"InvalidPact": "at", "InvalidText": "at", "InvalidFamily": "at", "InvalidMoment": "at", "InvalidRun": "at",
           "InvalidAsk": "at", "InvalidRow": "at", "InvalidOffices": "at", "InvalidSize": "word", "Refused": "word",
@@ -110,6 +126,31 @@ class InterfaceTest(unittest.TestCase):
                 self.assertEqual(found.__module__, module.__name__, name)
                 parameters = inspect.signature(found).parameters.values()
                 self.assertEqual([KINDS[one.kind] + one.name for one in parameters], told.split(), name)
+
+    def test_methods_are_defined_in_the_class(self):
+        for (stem, name), methods in METHODS.items():
+            own = vars(getattr(importlib.import_module("boundorvoid." + stem), name))
+            for method, told in methods.items():
+                self.assertEqual(list(inspect.signature(own[method]).parameters)[1:], told.split(), (name, method))
+
+    def test_all_names_of_the_document(self):
+        text = (pathlib.Path(__file__).resolve().parent.parent.parent / "shared" / "DOC.md")
+        if not text.exists():
+            self.skipTest("the document is not here")
+        listed = {}
+        for stem, rest in re.findall(r"^- `boundorvoid/(\w+)\.py`: (.*)$", text.read_text(), re.MULTILINE):
+            names = re.findall(r"(?:class )?`(\w+)(?:\(\.\.\))?`", re.sub(r" \((`[a-z=`, ]*`)\)", "", rest))
+            listed[stem] = set(names)
+        del listed["errors"]
+        self.assertEqual(listed, {stem: set(names) for stem, names in INTERFACE.items()})
+
+    def test_nothing_is_iterable_or_has_a_length_but_an_office(self):
+        for stem in (path.stem for path in pathlib.Path(importlib.import_module("boundorvoid").__file__).parent.glob(
+                "*.py")):
+            for name, found in vars(importlib.import_module("boundorvoid." + stem)).items():
+                if inspect.isclass(found) and found.__module__.startswith("boundorvoid."):
+                    self.assertFalse({"__iter__", "__getitem__", "__contains__"} & set(vars(found)), name)
+                    self.assertEqual("__len__" in vars(found), name == "Office")
 
     def test_errors(self):
         module = importlib.import_module("boundorvoid.errors")

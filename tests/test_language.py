@@ -21,7 +21,7 @@ encode decode hex fromhex format format_map mro register elements open input law
 BARRED_WORDS = re.compile(r"\b(type|typing|enum|Enum|Generic|Protocol|ABC|namedtuple|dataclass|overload|register|mro|"
                           r"elements|open|input|law|eval|exec|globals|locals|vars|getattr|chr|bytes)\b")
 BARRED_NODES = (ast.Global, ast.AsyncFunctionDef, ast.Await, ast.SetComp, ast.Div, ast.Yield, ast.YieldFrom,
-                ast.GeneratorExp, ast.NamedExpr, ast.Try, ast.With, ast.AsyncFor, ast.Nonlocal)
+                ast.GeneratorExp, ast.NamedExpr, ast.ExceptHandler, ast.With, ast.AsyncFor, ast.Nonlocal)
 FOLDED = {"any", "all", "min", "max", "sum", "sorted", "tuple", "list"}
 LAZY = {"zip", "enumerate", "reversed", "range"}
 
@@ -74,6 +74,9 @@ class LanguageTest(unittest.TestCase):
             self.assertIn(node, TREES[stem].body)
             self.assertEqual(node.level, 0)
             folder, _, other = node.module.partition(".")
+            if folder == "itertools":
+                self.assertEqual([(name.name, name.asname) for name in node.names], [("combinations", None)])
+                continue
             self.assertEqual(folder, "boundorvoid")
             for name in node.names:
                 self.assertIsNone(name.asname)
@@ -86,6 +89,39 @@ class LanguageTest(unittest.TestCase):
             self.assertTrue(free, "files import from each other")
             for stem in free:
                 del ahead[stem]
+
+    def check_plain(self, value, names):
+        """A literal, or a dict that leads literal words to functions defined above."""
+        if isinstance(value, ast.Dict) and any(isinstance(item, ast.Name) for item in value.values):
+            for key, item in zip(value.keys, value.values):
+                self.assertIsInstance(ast.literal_eval(key), str)
+                self.assertIn(item.id, names)
+        else:
+            ast.literal_eval(value)
+
+    def test_finally(self):
+        for stem, node in nodes(ast.Try):
+            self.assertTrue(node.finalbody and not node.handlers and not node.orelse, (stem, node.lineno))
+            for row in node.finalbody:
+                self.assertIsInstance(row, ast.Assign)
+                self.assertIsInstance(row.targets[0], ast.Attribute)
+                self.assertIsInstance(row.value, ast.Name)
+
+    def test_names_in_comprehensions(self):
+        kinds = (ast.ListComp, ast.DictComp)
+
+        def assigned(tree):
+            return {node.id for node in ast.walk(tree) if isinstance(node, ast.Name) and isinstance(node.ctx, ast.Store)}
+
+        for stem, tree in TREES.items():
+            for outer in ast.walk(tree):
+                if not isinstance(outer, kinds):
+                    continue
+                own = {name for part in outer.generators for name in assigned(part.target)}
+                for inner in ast.walk(outer):
+                    if isinstance(inner, kinds) and inner is not outer:
+                        names = {name for part in inner.generators for name in assigned(part.target)}
+                        self.assertFalse(own & names, (stem, inner.lineno))
 
     def test_module_level(self):
         for stem, tree in TREES.items():
@@ -100,7 +136,7 @@ class LanguageTest(unittest.TestCase):
                     names.append(node.name)
                 elif isinstance(node, ast.Assign):
                     names.append(node.targets[0].id)
-                    ast.literal_eval(node.value)
+                    self.check_plain(node.value, names)
             self.assertEqual(len(names), len(set(names)), stem)
             self.assertFalse(set(names) & RESERVED, stem)
             self.assertIsNotNone(ast.get_docstring(tree), stem)
