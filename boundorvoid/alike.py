@@ -43,8 +43,7 @@ def longest_walk(pact, hand):
     walks = {}
     # What is next for a note, of another hand, is told behind it.
     for number in reversed(range(start, len(pact.names))):
-        if pact.whole >> number & 1:
-            walks[number] = _longest_of(pact, number, walks)
+        walks[number] = _longest_of(pact, number, walks)
     # The ready note is its hand's next note for itself.
     return (hand, *walks[start])
 

@@ -8,7 +8,7 @@ from boundorvoid.families import all_lots, need_family
 from boundorvoid.heights import closure_of
 from boundorvoid.lots import lies_within, parts_of, sized_order
 from boundorvoid.moments import moment_mask, need_moment, need_order
-from boundorvoid.pacts import above_mask, hand_lot, hand_of, key_note, lot_mask, mask_lot, mask_told, need_hands
+from boundorvoid.pacts import above_mask, hand_lot, hand_of, key_note, lot_mask, mask_lot, mask_told
 from boundorvoid.parts import bits_of, joined_mask
 from boundorvoid.reaches import asked_rows, highest_levels, ready_numbers, table_places
 from boundorvoid.rules import told_plainly
@@ -20,8 +20,7 @@ CHOICE = "choice"
 
 
 def _need_company(pact, lot):
-    """Refuse a lot of hands who cannot act together."""
-    need_hands(pact, lot)
+    """Refuse a lot of hands who cannot act together, and first of all strange names."""
     if not lot or not bears_lot(pact, lot) and (len(lot) > 1 or not bears_lot(pact, ())):
         raise Refused("lot")
 

@@ -4,6 +4,7 @@ from boundorvoid.booked import awaited_numbers
 from boundorvoid.errors import Refused
 from boundorvoid.families import need_family
 from boundorvoid.pacts import hand_lot, lot_mask, mask_lot
+from boundorvoid.parts import joined_mask
 from boundorvoid.prospects import is_lost, is_possible
 from boundorvoid.reaches import asked_rows
 from boundorvoid.rules import need_first_ask, told_plainly
@@ -109,7 +110,7 @@ def _asks_along(pact, number, row, seen):
         owner = pact.hand_numbers[name]
         own = pact.rows[owner]
         level = pact.nexts[number][owner]
-        asks.append((name, mask_lot(pact, pact.unders[own[level - 1]] if level > 0 else 0)))
+        asks.append((name, mask_lot(pact, joined_mask(pact.unders, own[:level]))))
         if level == len(own):
             return tuple(asks)
         number = own[level]

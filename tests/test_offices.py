@@ -308,6 +308,7 @@ class AlternateTest(unittest.TestCase):
             self.assertEqual(raised(NoName, call, pact, "u", "v", "w"), "u")
             self.assertEqual(raised(NoName, call, pact, "a", "v", "w"), "v")
             self.assertEqual(raised(NoName, call, pact, "a", "b", "w"), "w")
+            self.assertEqual(raised(NoName, call, base_pact("n"), "b", "a", "w"), "w")
             self.assertTrue(call(pact=pact, hand="a", one="a", other="b"))
 
     def test_sized_families_agree(self):

@@ -27,10 +27,17 @@ def is_company(pact, lot):
     return bool(lot) and (bears_lot(pact, lot) or len(lot) == 1 and bears_lot(pact, ()))
 
 
+def with_late_readies(pact, rng):
+    """The pact with any of the first three notes of each hand as its ready note."""
+    return Pact(pact.hands, pact.notes, [rng.choice(notes_of(pact, hand)[:3]) for hand in pact.hands], pact.paper)
+
+
 def just_pacts(seed, many, families=2, **sizes):
     """Pacts with families for which they are just."""
     rng = random.Random(seed)
-    for pact in close_pacts(seed, many, **sizes) + [base_pact(), chain_pact(("b", "a", "c"), 7)]:
+    pacts = close_pacts(seed, many, **sizes)
+    pacts += [with_late_readies(pact, rng) for pact in close_pacts(seed + 7000, many, **sizes)]
+    for pact in pacts + [base_pact(), chain_pact(("b", "a", "c"), 7)]:
         fitting = [family for family in all_families(pact.hands) if isinstance(court(pact, family), Just)]
         for family in rng.sample(fitting, min(families, len(fitting))):
             yield pact, family

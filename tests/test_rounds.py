@@ -153,6 +153,12 @@ class FewestBeatsTest(unittest.TestCase):
                     found += expected is not None
         self.assertGreater(found, 20)
 
+    def test_the_least_of_five_beats(self):
+        told = [beats for beats in all_beats(THREE, 5) if len(beats) == 5]
+        for family in ((("a", "c"), ("b",)), (("a",), ("b", "c"))):
+            expected = self.naive_fewest([beats for beats in told if beats_just(THREE, family, beats)])
+            self.assertEqual(fewest_beats(THREE, family, 5), expected)
+
     def test_more_hands_and_beats(self):
         for hands in (THREE, tuple("abcd")):
             for family in (((),), sized_family(hands, 1), (("a",), ("c",))):

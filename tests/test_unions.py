@@ -66,6 +66,8 @@ class GroupsTest(unittest.TestCase):
         for wrong in ((), "b", ["b"], ("x",), ("c", "b"), ("b", "b"), (1,), (True,), None, 7, ("a", "d"), ("a",),
                       ("b", "d", "x"), (("b",),), ("a", "b")):
             self.assertEqual(raised(InvalidRow, need_groups, pact, (("a", "c"), wrong, None)), 1)
+        for wrong in ((), None, ["a"], ("c", "a"), ("x",)):
+            self.assertEqual(raised(InvalidRow, need_groups, pact, (wrong, ("a", "b", "c", "d"))), 0)
         self.assertEqual(raised(InvalidRow, need_groups, pact, (("b",), ("a", "c", "d"))), 1)
         self.assertEqual(raised(InvalidRow, need_groups, pact, (("a", "c"), ("b", "c", "d"))), 1)
         for groups in ((), (("a",),), (("a", "c"), ("b",))):
@@ -239,14 +241,13 @@ class BehindTest(unittest.TestCase):
         for told in list(firsts):
             hands = tuple(sorted(told))
             firsts[told] += [chain_pact(told, size) for size in (2 * len(told), 3 * len(told))]
-            for _ in range(30):
+            for _ in range(60):
                 one, other = rng.choice(firsts[told]), self.renamed(rng.choice(firsts[told]), "z")
                 if len(one.notes) + len(other.notes) > 40:
                     continue
                 families = all_families(hands) if len(hands) < 4 else [((),), sized_family(hands, 1), (hands[:2],)]
-                mine = rng.choice([family for family in families if isinstance(court(one, family), Just)] or [None])
-                yours = rng.choice([family for family in families if isinstance(court(other, family), Just)] or [None])
-                if mine and yours:
+                mine, yours = rng.choice(families), rng.choice(families)
+                if isinstance(court(one, mine), Just) and isinstance(court(other, yours), Just):
                     both = pacts_behind(one, other)
                     self.assertIsInstance(court(both, sum_family(hands, mine, yours)), Just)
                     many += 1
