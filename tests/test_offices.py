@@ -288,6 +288,36 @@ class AlternateTest(unittest.TestCase):
                     self.assertEqual(moment_levels(pact, ahead)[number], moment_levels(pact, behind)[number])
                 self.assertIn(key_note(pact, turns[-1]), moments[-1])
 
+    def deaf_runs(self, pact, turns, moments):
+        """Runs in which nobody lies, each with the numbers of the moments that are shown in it."""
+        def sends(moment, ahead=()):
+            return tuple(("send", name) for name in pact.names if name in moment and name not in ahead)
+
+        found = [(sends(moments[0]) + (("ask", turns[0], moments[0]),), (0,))]
+        for at in range(1, len(moments)):
+            one, other = moments[at - 1:at + 1]
+            run = sends(one) + (("ask", turns[at - 1], one),) + sends(other, one) + (("ask", turns[at], other),)
+            found.append((run, (at - 1, at)))
+        last = sends(moments[-1]) + (("ask", turns[-1], moments[-1]),) + sends(whole_paper(pact), moments[-1])
+        return found + [(last, (len(moments) - 1,))]
+
+    def test_no_rules_of_two_deaf_counters_wrong_nobody(self):
+        lengths = []
+        for pact in close_pacts(619, 60) + [base_pact(), base_pact("n")]:
+            for hand, one, other in itertools.product(pact.hands, repeat=3):
+                if one == other:
+                    continue
+                moments = alternate_moments(pact, hand, one, other)
+                turns = [(one, other)[at % 2] for at in range(len(moments))]
+                runs = self.deaf_runs(pact, turns, moments)
+                self.assertTrue(all(run_liars(pact, run) == () for run, _ in runs))
+                for answers in itertools.islice(itertools.product(("bound", "void"), repeat=len(moments)), 128):
+                    # Neither counter knows what the other one heard, so an answer hangs on the moment alone.
+                    self.assertTrue(any(run_wrongs(pact, run, [answers[at] for at in places]) for run, places in runs))
+                self.assertTrue(any(run_wrongs(pact, run, ["void"] * len(places)) for run, places in runs))
+                lengths.append(len(moments))
+        self.assertGreater(max(lengths), 4)
+
     def test_edges(self):
         pact = base_pact("n")
         self.assertEqual(alternate_climb(base_pact(), "a", "a", "b"), ("m", "n", "o", "p"))

@@ -13,7 +13,7 @@ from boundorvoid.unions import group_court, group_moments, members_row, merged_p
 from boundorvoid.unions import sum_family
 
 from tests.helpers import all_families, all_rows, base_pact, chain_pact, close_pacts, naive_moments, naive_under
-from tests.helpers import note_names, owners_of, raised, small_pacts, subsets
+from tests.helpers import note_names, owners_of, raised, random_run, small_pacts, subsets
 
 
 def all_groups(hands):
@@ -139,6 +139,86 @@ class GroupCourtTest(unittest.TestCase):
                 self.assertEqual(group_court(pact, groups, liars), expected)
                 found.append(expected is None)
         self.assertGreater(min(found.count(True), found.count(False)), 40)
+
+    def group_runs(self, pact, groups, hand, row):
+        """The runs of a row of groups that does not hold: sends of notes, and asks of groups; the last one sends all."""
+        runs, run, sent = [], [], []
+        for name, moment in zip(row, group_moments(pact, groups, hand, row)):
+            run = run + [("send", note) for note in pact.names if note in moment and note not in sent]
+            sent = moment
+            run = run + [("ask", name, moment)]
+            runs.append(run)
+        last = run + [("send", note) for note in pact.names if note in whole_paper(pact) and note not in sent]
+        return runs[1:] + [last]
+
+    def wronged_groups(self, pact, groups, run, answers):
+        """The honest groups that some answers wrong in a run, and its liars."""
+        owners = owners_of(pact)
+        sent = {event[1]: at for at, event in enumerate(run) if event[0] == "send"}
+        asks = [(at, event) for at, event in enumerate(run) if event[0] == "ask"]
+        bounds = [at for (at, _), answer in zip(asks, answers) if answer == "bound"]
+        wronged, liars = [], []
+        for group in groups:
+            told = [(at, event, answer) for (at, event), answer in zip(asks, answers) if event[1] == group[0]]
+            own = {note: at for note, at in sent.items() if owners[note] in group}
+            if any(own[note] > at or note not in event[2] for at, event, _ in told for note in own):
+                liars.append(group[0])
+                continue
+            unready = any(sent.get(ready_note(pact, hand), 999) > at for at in bounds for hand in group)
+            void = any(answer == "void" for _, _, answer in told)
+            if unready or void and (bounds or all(note in sent for note in whole_paper(pact))):
+                wronged.append(group[0])
+        return wronged, tuple(sorted(liars))
+
+    def plain_answers(self, pact, groups, run):
+        """Bound once all ready notes are seen, and of each group told void a note beyond what it showed."""
+        owners, told, seen, answers = owners_of(pact), {}, set(), []
+        members = {group[0]: group for group in groups}
+        for event in run:
+            if event[0] == "ask":
+                _, name, moment = event
+                if name not in told:
+                    seen |= set(moment)
+                    void = [other for other, (answer, shown) in told.items() if answer == "void" and not any(
+                        owners[note] in members[other] for note in seen - set(shown))]
+                    bound = any(answer == "bound" for answer, _ in told.values())
+                    told[name] = ("bound" if bound or not void and set(pact.ready) <= seen else "void", moment)
+                answers.append(told[name][0])
+        return answers
+
+    def test_if_all_rows_hold_no_honest_group_is_wronged(self):
+        rng, many = random.Random(649), 0
+        for pact, groups in grouped(649, 80):
+            names = {hand: group[0] for group in groups for hand in group}
+            family = rng.choice(all_families(set(names.values())))
+            if group_court(pact, groups, family) is not None or len(groups) == len(pact.hands):
+                continue
+            for _ in range(20):
+                run = [event if event[0] == "send" else ("ask", names[event[1]], event[2])
+                       for event in random_run(rng, pact, most=16, ask=0.4)]
+                wronged, liars = self.wronged_groups(pact, groups, run, self.plain_answers(pact, groups, run))
+                if in_family(family, liars):
+                    self.assertEqual(wronged, [])
+                    many += 1
+        self.assertGreater(many, 100)
+
+    def test_else_every_rule_wrongs_an_honest_group(self):
+        rng, lengths = random.Random(648), []
+        for pact, groups in grouped(648, 80, hands=(3, 5)):
+            family = rng.choice(all_families([group[0] for group in groups])[:40])
+            told = group_court(pact, groups, family)
+            if told is None:
+                continue
+            name, row = told
+            hands = [hand for group in groups if group[0] == name for hand in group]
+            hand = [one for one in hands if not naive_holds(pact, groups, one, row)][0]
+            runs = self.group_runs(pact, groups, hand, row)
+            for answers in itertools.product(("bound", "void"), repeat=len(row)):
+                wrongs = [self.wronged_groups(pact, groups, run, answers) for run in runs]
+                self.assertTrue(all(in_family(family, liars) for _, liars in wrongs))
+                self.assertTrue(any(wronged for wronged, _ in wrongs))
+            lengths.append((len(row), max(map(len, groups))))
+        self.assertGreater(len([1 for many, most in lengths if many > 1 and most > 1]), 5)
 
     def test_to_act_as_one_never_hurts(self):
         rng, merged = random.Random(644), 0
